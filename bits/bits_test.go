@@ -11,15 +11,6 @@ import (
 	"lampwright/internal/sample"
 )
 
-// binary spells a number with width signs 0 and 1.
-func binary(n uint64, width int) string {
-	if width == 0 {
-		return ""
-	}
-	text := strconv.FormatUint(n, 2)
-	return strings.Repeat("0", width-len(text)) + text
-}
-
 // number is what a text of at most 64 signs 0 and 1 spells.
 func number(t *testing.T, text string) uint64 {
 	t.Helper()
@@ -28,14 +19,6 @@ func number(t *testing.T, text string) uint64 {
 		t.Fatal(err)
 	}
 	return n
-}
-
-// wantBits fails unless the result is the bits of the text, or an error and no bits.
-func wantBits(t *testing.T, call string, got api.Bits, err api.Errno, text string, wantErr api.Errno) {
-	t.Helper()
-	if err != wantErr || !sample.Same(got, text) {
-		t.Errorf("%s: %v %d, must be %q %d", call, got, err, text, wantErr)
-	}
 }
 
 func wantNumber(t *testing.T, call string, got uint64, err api.Errno, n uint64, wantErr api.Errno) {
@@ -88,7 +71,7 @@ func TestA2PutAppends(t *testing.T) {
 	for _, text := range sample.Texts(9) {
 		for _, end := range sample.Texts(4) {
 			got, err := bits.Put(sample.Bits(text), number(t, end), len(end))
-			wantBits(t, "Put", got, err, text+end, api.OK)
+			sample.WantBits(t, "Put", got, err, text+end, api.OK)
 		}
 	}
 }
@@ -103,11 +86,11 @@ func TestA2PutOfEachWidth(t *testing.T) {
 			text := sample.Mixed(start)
 			for _, n := range []uint64{0, most, most >> 1, most & 0x123456789abcdef5} {
 				got, err := bits.Put(sample.Bits(text), n, width)
-				wantBits(t, "Put", got, err, text+binary(n, width), api.OK)
+				sample.WantBits(t, "Put", got, err, text+sample.Binary(n, width), api.OK)
 			}
 			if width < 64 {
 				got, err := bits.Put(sample.Bits(text), most+1, width)
-				wantBits(t, "Put of a number that is too great", got, err, "", api.ErrRange)
+				sample.WantBits(t, "Put of a number that is too great", got, err, "", api.ErrRange)
 			}
 		}
 	}
@@ -141,7 +124,7 @@ func TestA2PutErrors(t *testing.T) {
 		{full, 4, 2, "", api.ErrRange},
 	} {
 		got, err := bits.Put(sample.Bits(c.text), c.n, c.width)
-		wantBits(t, "Put of "+strconv.Itoa(c.width), got, err, c.want, c.err)
+		sample.WantBits(t, "Put of "+strconv.Itoa(c.width), got, err, c.want, c.err)
 	}
 }
 
@@ -195,7 +178,7 @@ func TestA3JoinPutsOneAfterTheOther(t *testing.T) {
 	for _, a := range append(sample.Texts(5), sample.Mixed(16), sample.Mixed(77)) {
 		for _, b := range append(sample.Texts(5), sample.Mixed(8), sample.Mixed(63)) {
 			got, err := bits.Join(sample.Bits(a), sample.Bits(b))
-			wantBits(t, "Join", got, err, a+b, api.OK)
+			sample.WantBits(t, "Join", got, err, a+b, api.OK)
 		}
 	}
 }
@@ -204,20 +187,20 @@ func TestA3JoinErrors(t *testing.T) {
 	all := sample.Mixed(api.MaxLen)
 	for _, at := range []int{1, 3, 8, api.MaxLen - 1, api.MaxLen} {
 		got, err := bits.Join(sample.Bits(all[:at]), sample.Bits(all[at:]))
-		wantBits(t, "Join of all bits", got, err, all, api.OK)
+		sample.WantBits(t, "Join of all bits", got, err, all, api.OK)
 		got, err = bits.Join(sample.Bits(all[:at]), sample.Bits(all[at-1:]))
-		wantBits(t, "Join of one bit too many", got, err, "", api.ErrFull)
+		sample.WantBits(t, "Join of one bit too many", got, err, "", api.ErrFull)
 	}
 	got, err := bits.Join(api.Bits{}, sample.Bits(all))
-	wantBits(t, "Join of nothing and all bits", got, err, all, api.OK)
+	sample.WantBits(t, "Join of nothing and all bits", got, err, all, api.OK)
 	for _, w := range sample.WrongBits() {
 		got, err := bits.Join(w.Bits, api.Bits{Len: 1})
-		wantBits(t, "Join of a wrong a", got, err, "", w.Err)
+		sample.WantBits(t, "Join of a wrong a", got, err, "", w.Err)
 		got, err = bits.Join(sample.Bits(all), w.Bits)
-		wantBits(t, "Join of a wrong b", got, err, "", w.Err)
+		sample.WantBits(t, "Join of a wrong b", got, err, "", w.Err)
 	}
 	got, err = bits.Join(api.Bits{Len: 1}, api.Bits{Len: -1})
-	wantBits(t, "Join of a wrong a and a wrong b", got, err, "", api.ErrForm)
+	sample.WantBits(t, "Join of a wrong a and a wrong b", got, err, "", api.ErrForm)
 }
 
 func TestA3CutReturnsAPart(t *testing.T) {
@@ -226,22 +209,22 @@ func TestA3CutReturnsAPart(t *testing.T) {
 			for to := -1; to <= len(text)+1; to++ {
 				got, err := bits.Cut(sample.Bits(text), from, to)
 				if 0 <= from && from <= to && to <= len(text) {
-					wantBits(t, "Cut", got, err, text[from:to], api.OK)
+					sample.WantBits(t, "Cut", got, err, text[from:to], api.OK)
 				} else {
-					wantBits(t, "Cut out of range", got, err, "", api.ErrRange)
+					sample.WantBits(t, "Cut out of range", got, err, "", api.ErrRange)
 				}
 			}
 		}
 	}
 	all := sample.Mixed(api.MaxLen)
 	got, err := bits.Cut(sample.Bits(all), 0, api.MaxLen)
-	wantBits(t, "Cut of all bits", got, err, all, api.OK)
+	sample.WantBits(t, "Cut of all bits", got, err, all, api.OK)
 }
 
 func TestA3CutErrors(t *testing.T) {
 	for _, c := range [][2]int{{math.MinInt, 0}, {math.MaxInt, math.MaxInt}, {0, math.MaxInt}, {0, math.MinInt}, {math.MinInt, math.MinInt}} {
 		got, err := bits.Cut(sample.Bits("0110"), c[0], c[1])
-		wantBits(t, "Cut out of range", got, err, "", api.ErrRange)
+		sample.WantBits(t, "Cut out of range", got, err, "", api.ErrRange)
 	}
 }
 
@@ -249,11 +232,11 @@ func TestA2A3WrongBitsComeFirst(t *testing.T) {
 	for _, w := range sample.WrongBits() {
 		for _, bad := range []int{0, -1, 65, math.MaxInt, math.MinInt} {
 			got, err := bits.Put(w.Bits, 1, bad)
-			wantBits(t, "Put", got, err, "", w.Err)
+			sample.WantBits(t, "Put", got, err, "", w.Err)
 			n, err := bits.Get(w.Bits, bad, bad)
 			wantNumber(t, "Get", n, err, 0, w.Err)
 			got, err = bits.Cut(w.Bits, bad, bad)
-			wantBits(t, "Cut", got, err, "", w.Err)
+			sample.WantBits(t, "Cut", got, err, "", w.Err)
 		}
 	}
 }

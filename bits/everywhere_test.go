@@ -84,13 +84,13 @@ func TestP2ArgumentsStayAsTheyAre(t *testing.T) {
 func TestP2EmptyListsCanBeNilOrNot(t *testing.T) {
 	for _, b := range []api.Bits{{}, {Bytes: []byte{}}} {
 		got, err := bits.Put(b, 1, 1)
-		wantBits(t, "Put", got, err, "1", api.OK)
+		sample.WantBits(t, "Put", got, err, "1", api.OK)
 		got, err = bits.Join(b, sample.Bits("01"))
-		wantBits(t, "Join", got, err, "01", api.OK)
+		sample.WantBits(t, "Join", got, err, "01", api.OK)
 		got, err = bits.Join(sample.Bits("01"), b)
-		wantBits(t, "Join", got, err, "01", api.OK)
+		sample.WantBits(t, "Join", got, err, "01", api.OK)
 		got, err = bits.Cut(b, 0, 0)
-		wantBits(t, "Cut", got, err, "", api.OK)
+		sample.WantBits(t, "Cut", got, err, "", api.OK)
 		n, err := bits.Get(b, 0, 0)
 		wantNumber(t, "Get", n, err, 0, api.OK)
 	}
@@ -101,13 +101,13 @@ func TestP3EachCallIsByItself(t *testing.T) {
 		text := sample.Mixed(n)
 		for range 3 {
 			got, err := bits.Put(sample.Bits(text), 5, 3)
-			wantBits(t, "Put", got, err, text+"101", api.OK)
+			sample.WantBits(t, "Put", got, err, text+"101", api.OK)
 			sample.Scribble(got)
 			got, err = bits.Join(sample.Bits(text), sample.Bits("0011"))
-			wantBits(t, "Join", got, err, text+"0011", api.OK)
+			sample.WantBits(t, "Join", got, err, text+"0011", api.OK)
 			sample.Scribble(got)
 			got, err = bits.Cut(sample.Bits(text), n/2, n)
-			wantBits(t, "Cut", got, err, text[n/2:], api.OK)
+			sample.WantBits(t, "Cut", got, err, text[n/2:], api.OK)
 			sample.Scribble(got)
 			_, err = bits.Put(sample.Bits(text), 5, 2)
 			if err != api.ErrRange {
@@ -122,11 +122,11 @@ func TestP3EachCallIsByItself(t *testing.T) {
 func TestP4HoldsForMuch(t *testing.T) {
 	much := api.Bits{Len: api.MaxLen, Bytes: make([]byte, 1<<26)}
 	got, err := bits.Put(much, 0, 0)
-	wantBits(t, "Put to many bytes", got, err, "", api.ErrForm)
+	sample.WantBits(t, "Put to many bytes", got, err, "", api.ErrForm)
 	got, err = bits.Join(api.Bits{}, much)
-	wantBits(t, "Join of many bytes", got, err, "", api.ErrForm)
+	sample.WantBits(t, "Join of many bytes", got, err, "", api.ErrForm)
 	got, err = bits.Cut(much, 0, 0)
-	wantBits(t, "Cut of many bytes", got, err, "", api.ErrForm)
+	sample.WantBits(t, "Cut of many bytes", got, err, "", api.ErrForm)
 	n, err := bits.Get(much, 0, 0)
 	wantNumber(t, "Get from many bytes", n, err, 0, api.ErrForm)
 

@@ -63,24 +63,24 @@ func TestP2ArgumentsStayAsTheyAre(t *testing.T) {
 
 func TestP2EmptyListsCanBeNilOrNot(t *testing.T) {
 	for _, b := range []api.Bits{{}, {Bytes: []byte{}}} {
-		wantRead(t, b, 0, 0, 0, api.ErrShort)
+		sample.WantRead(t, "Read", unary.Read, b, 0, 0, 0, api.ErrShort)
 		wantAll(t, b, 0, nil, 0, api.OK)
 	}
 	for _, l := range [][]uint64{nil, {}} {
 		got, err := unary.Many(l)
-		wantBits(t, "Many", got, err, "", api.OK)
+		sample.WantBits(t, "Many", got, err, "", api.OK)
 	}
 }
 
 func TestP3EachCallIsByItself(t *testing.T) {
 	for range 3 {
 		code, err := unary.Code(70)
-		wantBits(t, "Code", code, err, spell(70), api.OK)
+		sample.WantBits(t, "Code", code, err, sample.Unary(70), api.OK)
 		sample.Scribble(code)
 		code, err = unary.Many([]uint64{4, 0, 9})
-		wantBits(t, "Many", code, err, "0000110000000001", api.OK)
-		wantRead(t, code, 5, 0, 6, api.OK)
-		wantRead(t, code, 0, 4, 5, api.OK)
+		sample.WantBits(t, "Many", code, err, "0000110000000001", api.OK)
+		sample.WantRead(t, "Read", unary.Read, code, 5, 0, 6, api.OK)
+		sample.WantRead(t, "Read", unary.Read, code, 0, 4, 5, api.OK)
 		wantAll(t, code, 2, []uint64{4, 0}, 6, api.OK)
 		wantAll(t, code, 3, []uint64{4, 0, 9}, 16, api.OK)
 		sample.Scribble(code)
@@ -90,12 +90,12 @@ func TestP3EachCallIsByItself(t *testing.T) {
 func TestP4HoldsForMuch(t *testing.T) {
 	much := make([]uint64, 1<<22)
 	got, err := unary.Many(much)
-	wantBits(t, "Many of a long list", got, err, "", api.ErrFull)
+	sample.WantBits(t, "Many of a long list", got, err, "", api.ErrFull)
 	much[len(much)-1] = math.MaxUint64
 	got, err = unary.Many(much)
-	wantBits(t, "Many of a long list", got, err, "", api.ErrRange)
+	sample.WantBits(t, "Many of a long list", got, err, "", api.ErrRange)
 
 	bytes := api.Bits{Len: api.MaxLen, Bytes: make([]byte, 1<<26)}
-	wantRead(t, bytes, 0, 0, 0, api.ErrForm)
+	sample.WantRead(t, "Read", unary.Read, bytes, 0, 0, 0, api.ErrForm)
 	wantAll(t, bytes, 0, nil, 0, api.ErrForm)
 }

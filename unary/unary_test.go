@@ -11,26 +11,6 @@ import (
 	"lampwright/unary"
 )
 
-// spell a number as its code.
-func spell(n int) string { return strings.Repeat("0", n) + "1" }
-
-// wantBits fails unless the result is the bits of the text, or an error and no bits.
-func wantBits(t *testing.T, call string, got api.Bits, err api.Errno, text string, wantErr api.Errno) {
-	t.Helper()
-	if err != wantErr || !sample.Same(got, text) {
-		t.Errorf("%s: %v %d, must be %q %d", call, got, err, text, wantErr)
-	}
-}
-
-// wantRead fails unless Read has these results.
-func wantRead(t *testing.T, b api.Bits, at int, n uint64, after int, err api.Errno) {
-	t.Helper()
-	gotN, gotAfter, gotErr := unary.Read(b, at)
-	if gotN != n || gotAfter != after || gotErr != err {
-		t.Errorf("Read of %d bits at %d: %d %d %d, must be %d %d %d", b.Len, at, gotN, gotAfter, gotErr, n, after, err)
-	}
-}
-
 // wantAll fails unless All has these results.
 func wantAll(t *testing.T, b api.Bits, many int, l []uint64, after int, err api.Errno) {
 	t.Helper()
@@ -46,43 +26,43 @@ func TestB1CodeOfEachNumber(t *testing.T) {
 			continue
 		}
 		got, err := unary.Code(uint64(n))
-		wantBits(t, "Code", got, err, spell(n), api.OK)
+		sample.WantBits(t, "Code", got, err, sample.Unary(n), api.OK)
 	}
 }
 
 func TestB1CodeErrors(t *testing.T) {
 	for _, n := range []uint64{api.MaxLen, api.MaxLen + 1, 1 << 32, 1 << 63, 1<<63 + 1, math.MaxUint64} {
 		got, err := unary.Code(n)
-		wantBits(t, "Code of a number that is too great", got, err, "", api.ErrRange)
+		sample.WantBits(t, "Code of a number that is too great", got, err, "", api.ErrRange)
 	}
 }
 
 func TestB1ReadAtEachPosition(t *testing.T) {
-	for _, text := range append(sample.Texts(9), sample.Mixed(100), spell(130)+spell(0)+spell(64)) {
+	for _, text := range append(sample.Texts(9), sample.Mixed(100), sample.Unary(130)+sample.Unary(0)+sample.Unary(64)) {
 		for at := range len(text) + 1 {
 			if n := strings.IndexByte(text[at:], '1'); n >= 0 {
-				wantRead(t, sample.Bits(text), at, uint64(n), at+n+1, api.OK)
+				sample.WantRead(t, "Read", unary.Read, sample.Bits(text), at, uint64(n), at+n+1, api.OK)
 			} else {
-				wantRead(t, sample.Bits(text), at, 0, 0, api.ErrShort)
+				sample.WantRead(t, "Read", unary.Read, sample.Bits(text), at, 0, 0, api.ErrShort)
 			}
 		}
 	}
 }
 
 func TestB1ReadErrors(t *testing.T) {
-	full := sample.Bits(spell(api.MaxLen - 1))
-	wantRead(t, full, 0, api.MaxLen-1, api.MaxLen, api.OK)
-	wantRead(t, full, api.MaxLen-1, 0, api.MaxLen, api.OK)
-	wantRead(t, full, api.MaxLen, 0, 0, api.ErrShort)
-	wantRead(t, full, api.MaxLen+1, 0, 0, api.ErrRange)
-	wantRead(t, sample.Bits(strings.Repeat("0", api.MaxLen)), 0, 0, 0, api.ErrShort)
-	wantRead(t, api.Bits{}, 0, 0, 0, api.ErrShort)
+	full := sample.Bits(sample.Unary(api.MaxLen - 1))
+	sample.WantRead(t, "Read", unary.Read, full, 0, api.MaxLen-1, api.MaxLen, api.OK)
+	sample.WantRead(t, "Read", unary.Read, full, api.MaxLen-1, 0, api.MaxLen, api.OK)
+	sample.WantRead(t, "Read", unary.Read, full, api.MaxLen, 0, 0, api.ErrShort)
+	sample.WantRead(t, "Read", unary.Read, full, api.MaxLen+1, 0, 0, api.ErrRange)
+	sample.WantRead(t, "Read", unary.Read, sample.Bits(strings.Repeat("0", api.MaxLen)), 0, 0, 0, api.ErrShort)
+	sample.WantRead(t, "Read", unary.Read, api.Bits{}, 0, 0, 0, api.ErrShort)
 	for _, at := range []int{math.MinInt, -8, -1, 5, 8, math.MaxInt} {
-		wantRead(t, sample.Bits("0001"), at, 0, 0, api.ErrRange)
+		sample.WantRead(t, "Read", unary.Read, sample.Bits("0001"), at, 0, 0, api.ErrRange)
 	}
 	for _, w := range sample.WrongBits() {
 		for _, at := range []int{0, -1, 1, math.MaxInt} {
-			wantRead(t, w.Bits, at, 0, 0, w.Err)
+			sample.WantRead(t, "Read", unary.Read, w.Bits, at, 0, 0, w.Err)
 		}
 	}
 }
@@ -90,7 +70,7 @@ func TestB1ReadErrors(t *testing.T) {
 func TestB1ReadUndoesCode(t *testing.T) {
 	for _, n := range []uint64{0, 1, 7, 8, 63, 64, 65, 4000, api.MaxLen - 1} {
 		code, _ := unary.Code(n)
-		wantRead(t, code, 0, n, int(n)+1, api.OK)
+		sample.WantRead(t, "Read", unary.Read, code, 0, n, int(n)+1, api.OK)
 	}
 }
 
@@ -98,10 +78,10 @@ func TestB2ManyPutsCodesOneAfterTheOther(t *testing.T) {
 	for _, l := range [][]uint64{nil, {}, {0}, {5}, {0, 0, 0}, {3, 0, 2}, {7, 8, 9}, {63, 64, 65, 127, 128, 129}, {1000, 0, 2000, 1}} {
 		text := ""
 		for _, n := range l {
-			text += spell(int(n))
+			text += sample.Unary(int(n))
 		}
 		got, err := unary.Many(l)
-		wantBits(t, "Many", got, err, text, api.OK)
+		sample.WantBits(t, "Many", got, err, text, api.OK)
 		wantAll(t, got, len(l), l, len(text), api.OK)
 	}
 }
@@ -112,9 +92,9 @@ func TestB2ManyErrors(t *testing.T) {
 		text string
 		err  api.Errno
 	}{
-		{[]uint64{api.MaxLen - 1}, spell(api.MaxLen - 1), api.OK},
-		{[]uint64{api.MaxLen - 2, 0}, spell(api.MaxLen-2) + "1", api.OK},
-		{[]uint64{0, api.MaxLen - 2}, "1" + spell(api.MaxLen-2), api.OK},
+		{[]uint64{api.MaxLen - 1}, sample.Unary(api.MaxLen - 1), api.OK},
+		{[]uint64{api.MaxLen - 2, 0}, sample.Unary(api.MaxLen-2) + "1", api.OK},
+		{[]uint64{0, api.MaxLen - 2}, "1" + sample.Unary(api.MaxLen-2), api.OK},
 		{make([]uint64, api.MaxLen), strings.Repeat("1", api.MaxLen), api.OK},
 		{make([]uint64, api.MaxLen+1), "", api.ErrFull},
 		{[]uint64{api.MaxLen - 1, 0}, "", api.ErrFull},
@@ -129,7 +109,7 @@ func TestB2ManyErrors(t *testing.T) {
 		{[]uint64{api.MaxLen - 1, api.MaxLen - 1, 1 << 63}, "", api.ErrRange},
 	} {
 		got, err := unary.Many(c.l)
-		wantBits(t, "Many", got, err, c.text, c.err)
+		sample.WantBits(t, "Many", got, err, c.text, c.err)
 	}
 }
 

@@ -1,0 +1,29 @@
+package check
+
+import (
+	"testing"
+
+	"lampwright/api"
+)
+
+func TestRange(t *testing.T) {
+	for _, c := range []struct {
+		before  api.Errno
+		further []bool
+		want    api.Errno
+	}{
+		{api.OK, nil, api.OK},
+		{api.OK, []bool{true}, api.OK},
+		{api.OK, []bool{true, true, true}, api.OK},
+		{api.OK, []bool{false}, api.ErrRange},
+		{api.OK, []bool{false, true, true}, api.ErrRange},
+		{api.OK, []bool{true, true, false}, api.ErrRange},
+		{api.ErrForm, nil, api.ErrForm},
+		{api.ErrForm, []bool{true}, api.ErrForm},
+		{api.ErrShort, []bool{false, false}, api.ErrShort},
+	} {
+		if got := Range(c.before, c.further...); got != c.want {
+			t.Errorf("Range of %d and %v: %d, must be %d", c.before, c.further, got, c.want)
+		}
+	}
+}
