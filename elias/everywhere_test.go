@@ -11,20 +11,11 @@ import (
 )
 
 func TestP1ReturnsForAllArguments(t *testing.T) {
-	all := []api.Bits{{}, sample.Bits("1"), sample.Bits("0001"), sample.Bits(sample.Mixed(api.MaxLen)), {Len: api.MaxLen, Bytes: make([]byte, api.MaxLen/8)}}
-	for _, w := range sample.WrongBits() {
-		all = append(all, w.Bits)
-	}
-	for _, x := range []int{math.MinInt, -1, 0, 1, 8, api.MaxLen - 1, api.MaxLen, api.MaxLen + 1, math.MaxInt} {
-		for _, b := range all {
-			for _, k := range []sample.Kind{gamma(), delta()} {
-				if n, after, err := k.Read(b, x); err != api.OK && (n != 0 || after != 0) {
-					t.Errorf("%s: %d %d beside the error %d", k.Name, n, after, err)
-				}
-			}
-		}
+	gamma().WantNothingBesideErrors(t)
+	delta().WantNothingBesideErrors(t)
+	for _, n := range []uint64{0, 1, api.MaxNum, api.MaxNum + 1, 1 << 63, math.MaxUint64} {
 		for _, write := range []func(uint64) (api.Bits, api.Errno){elias.Gamma, elias.Delta} {
-			code, err := write(uint64(x))
+			code, err := write(n)
 			if bits.Check(code) != api.OK || err != api.OK && code.Len != 0 {
 				t.Errorf("%v beside the error %d", code, err)
 			}

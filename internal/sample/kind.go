@@ -88,6 +88,22 @@ func (k Kind) WantPlaceErrors(t T) {
 	}
 }
 
+// WantNothingBesideErrors fails if reading panics, or if it returns an error and anything else.
+func (k Kind) WantNothingBesideErrors(t T) {
+	t.Helper()
+	all := []api.Bits{{}, Bits("1"), Bits("0001"), Bits(Mixed(api.MaxLen)), Bits(strings.Repeat("0", api.MaxLen))}
+	for _, w := range WrongBits() {
+		all = append(all, w.Bits)
+	}
+	for _, b := range all {
+		for _, at := range []int{math.MinInt, -1, 0, 1, 8, api.MaxLen - 1, api.MaxLen, api.MaxLen + 1, math.MaxInt} {
+			if n, after, err := k.Read(b, at); err != api.OK && (n != 0 || after != 0) {
+				t.Errorf("%s: %d %d beside the error %d", k.Name, n, after, err)
+			}
+		}
+	}
+}
+
 // WantArgumentsKept fails if reading changes the bits or the memory around them.
 func (k Kind) WantArgumentsKept(t T) {
 	t.Helper()

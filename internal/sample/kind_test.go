@@ -37,6 +37,7 @@ func TestKindTakesWhatIsRight(t *testing.T) {
 	k.WantReadBack(t, []uint64{0, 1, 2, 30, 100})
 	k.WantShortTexts(t, 8, 9, 9)
 	k.WantPlaceErrors(t)
+	k.WantNothingBesideErrors(t)
 	k.WantArgumentsKept(t)
 	k.WantEachPart(t, "000000000001", api.ErrShort)
 }
@@ -45,6 +46,9 @@ func TestKindTakesWhatIsRight(t *testing.T) {
 func changeBits(b api.Bits, at int) (uint64, int, api.Errno) {
 	if len(b.Bytes) > 0 {
 		b.Bytes[0] ^= 0x80
+	}
+	if at < 0 {
+		return 1, 0, api.ErrRange
 	}
 	return 1, at, api.OK
 }
@@ -57,6 +61,7 @@ func TestKindNoticesWhatIsWrong(t *testing.T) {
 		func(t T) { k.WantEachPart(t, "01", api.ErrShort) },
 		func(t T) { k.WantError(t, "01", api.ErrRange) },
 		k.WantPlaceErrors,
+		k.WantNothingBesideErrors,
 		k.WantArgumentsKept,
 	} {
 		if fails(check) == 0 {

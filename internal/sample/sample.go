@@ -71,30 +71,3 @@ func WrongBits() []Wrong {
 		{api.Bits{Len: 12, Bytes: []byte{0xff, 0xf1}}, api.ErrForm},
 	}
 }
-
-// Guard has bits in the middle of memory of which a function may change nothing.
-type Guard struct {
-	Bits         api.Bits
-	memory, kept []byte
-}
-
-// Guarded returns the bits of a text with memory before them and behind the length of their slice.
-func Guarded(text string) Guard {
-	b := Bits(text)
-	const edge = 16
-	memory := bytes.Repeat([]byte{0xa5}, edge+len(b.Bytes)+edge)
-	copy(memory[edge:], b.Bytes)
-	b.Bytes = memory[edge : edge+len(b.Bytes)]
-	return Guard{Bits: b, memory: memory, kept: bytes.Clone(memory)}
-}
-
-// Changed reports whether the bits or the memory around them are not as they were.
-func (g Guard) Changed() bool { return !bytes.Equal(g.memory, g.kept) }
-
-// Scribble changes each byte of a result, and the memory behind its length.
-func Scribble(result api.Bits) {
-	all := result.Bytes[:cap(result.Bytes)]
-	for i := range all {
-		all[i] ^= 0xff
-	}
-}

@@ -24,19 +24,3 @@ func TestTexts(t *testing.T) {
 		t.Errorf("Mixed: %q", got)
 	}
 }
-
-func TestGuard(t *testing.T) {
-	g := Guarded("0110")
-	if g.Changed() || !Same(g.Bits, "0110") {
-		t.Fatalf("Guarded: %v", g)
-	}
-	Scribble(g.Bits)
-	if !g.Changed() {
-		t.Error("a change is not noticed")
-	}
-	g = Guarded("")
-	_ = append(g.Bits.Bytes, 0)
-	if !g.Changed() {
-		t.Error("a change behind the length is not noticed")
-	}
-}
