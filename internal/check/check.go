@@ -14,3 +14,13 @@ func Range(before api.Errno, further ...bool) api.Errno {
 	}
 	return before
 }
+
+// Each returns the error of the first element of a list that has one.
+func Each[E any](l []E, errorOf func(E) api.Errno) api.Errno {
+	for _, element := range l {
+		if err := errorOf(element); err != api.OK {
+			return err
+		}
+	}
+	return api.OK
+}

@@ -27,3 +27,21 @@ func TestRange(t *testing.T) {
 		}
 	}
 }
+
+func TestEach(t *testing.T) {
+	for _, c := range []struct {
+		list []api.Errno
+		want api.Errno
+	}{
+		{nil, api.OK},
+		{[]api.Errno{}, api.OK},
+		{[]api.Errno{api.OK, api.OK}, api.OK},
+		{[]api.Errno{api.ErrMany}, api.ErrMany},
+		{[]api.Errno{api.OK, api.OK, api.ErrShort}, api.ErrShort},
+		{[]api.Errno{api.OK, api.ErrState, api.ErrForm}, api.ErrState},
+	} {
+		if got := Each(c.list, func(err api.Errno) api.Errno { return err }); got != c.want {
+			t.Errorf("Each of %d: %d, must be %d", c.list, got, c.want)
+		}
+	}
+}
