@@ -14,33 +14,12 @@ import (
 // quotients is how many quotients D2 allows, from 0 on.
 const quotients = api.MaxLen - 64
 
-func spellLeast(n, m uint64) string {
-	s := 0
-	for uint64(1)<<s < m {
-		s++
-	}
-	d := 1<<s - m
-	if n < d {
-		return sample.Binary(n, s-1)
-	}
-	return sample.Binary(n+d, s)
-}
-
-func spellCode(n, m uint64) string { return sample.Unary(int(n/m)) + spellLeast(n%m, m) }
-
-func spellZeta(n uint64, k int) string {
-	h := 0
-	for (n+1)>>((h+1)*k) != 0 {
-		h++
-	}
-	low, high := uint64(1)<<(h*k), uint64(1)<<((h+1)*k)
-	return sample.Unary(h) + spellLeast(n+1-low, high-low)
-}
+func spellCode(n, m uint64) string { return sample.Unary(int(n/m)) + sample.Least(n%m, m) }
 
 func least(m uint64) sample.Kind {
 	return sample.Kind{
 		Name:  fmt.Sprint("ReadLeast with ", m),
-		Spell: func(n uint64) string { return spellLeast(n, m) },
+		Spell: func(n uint64) string { return sample.Least(n, m) },
 		Read:  func(b api.Bits, at int) (uint64, int, api.Errno) { return golomb.ReadLeast(b, at, m) },
 	}
 }
@@ -56,7 +35,7 @@ func code(m uint64) sample.Kind {
 func zeta(k int) sample.Kind {
 	return sample.Kind{
 		Name:  fmt.Sprint("ReadZeta with ", k),
-		Spell: func(n uint64) string { return spellZeta(n, k) },
+		Spell: func(n uint64) string { return sample.Zeta(n, k) },
 		Read:  func(b api.Bits, at int) (uint64, int, api.Errno) { return golomb.ReadZeta(b, at, k) },
 	}
 }
@@ -126,13 +105,13 @@ func TestD1LeastByHand(t *testing.T) {
 func TestD1LeastOfEachNumber(t *testing.T) {
 	for m := uint64(1); m <= 130; m++ {
 		for n := range m {
-			wantLeast(t, n, m, spellLeast(n, m), api.OK)
+			wantLeast(t, n, m, sample.Least(n, m), api.OK)
 		}
 		wantLeast(t, m, m, "", api.ErrRange)
 	}
 	for _, m := range divisors() {
 		for _, n := range below(m) {
-			wantLeast(t, n, m, spellLeast(n, m), api.OK)
+			wantLeast(t, n, m, sample.Least(n, m), api.OK)
 		}
 	}
 }
@@ -223,7 +202,7 @@ func TestD3ZetaByHand(t *testing.T) {
 func TestD3ZetaOfEachSize(t *testing.T) {
 	for k := 1; k <= 16; k++ {
 		for _, n := range sample.Numbers() {
-			wantZeta(t, n, k, spellZeta(n, k), api.OK)
+			wantZeta(t, n, k, sample.Zeta(n, k), api.OK)
 		}
 	}
 }

@@ -94,7 +94,7 @@ func TestD4ReadsUpToTheLastBit(t *testing.T) {
 
 // spellBeyond spells a number whose quotient and remainder are given, however great it is.
 func spellBeyond(quotient int, remainder, m uint64) string {
-	return sample.Unary(quotient) + spellLeast(remainder, m)
+	return sample.Unary(quotient) + sample.Least(remainder, m)
 }
 
 func TestD4ReadOfNumbersThatAreTooGreat(t *testing.T) {
@@ -155,8 +155,8 @@ func TestD4ReadZetaOfNumbersThatAreTooGreat(t *testing.T) {
 		greatest := uint64(1)<<((h+1)*k) - 2
 		for _, n := range []uint64{api.MaxNum + 1, api.MaxNum + 2, (api.MaxNum + greatest) / 2, greatest - 1, greatest} {
 			if n > api.MaxNum && n <= greatest {
-				zeta(k).WantEachPart(t, spellZeta(n, k), api.ErrShort)
-				zeta(k).WantError(t, spellZeta(n, k), api.ErrRange)
+				zeta(k).WantEachPart(t, sample.Zeta(n, k), api.ErrShort)
+				zeta(k).WantError(t, sample.Zeta(n, k), api.ErrRange)
 			}
 		}
 		for _, beyond := range []int{h + 1, h + 2, 41, 64, 100, 5000} {

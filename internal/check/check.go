@@ -7,6 +7,9 @@ import (
 	"lampwright/api"
 )
 
+// maxK is the greatest k of Zeta codes.
+const maxK = 16
+
 // Range returns the error that was found before, if any; else ErrRange if one of the further conditions does not hold.
 func Range(before api.Errno, further ...bool) api.Errno {
 	if before == api.OK && slices.Contains(further, false) {
@@ -14,6 +17,12 @@ func Range(before api.Errno, further ...bool) api.Errno {
 	}
 	return before
 }
+
+// Node reports whether n is from 0 to MaxNode, as the elements of lists are.
+func Node(n int) bool { return 0 <= n && n <= api.MaxNode }
+
+// K reports whether there is a Zeta code with k.
+func K(k int) bool { return 1 <= k && k <= maxK }
 
 // Each returns the error of the first element of a list that has one.
 func Each[E any](l []E, errorOf func(E) api.Errno) api.Errno {

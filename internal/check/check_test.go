@@ -1,6 +1,7 @@
 package check
 
 import (
+	"math"
 	"testing"
 
 	"lampwright/api"
@@ -24,6 +25,27 @@ func TestRange(t *testing.T) {
 	} {
 		if got := Range(c.before, c.further...); got != c.want {
 			t.Errorf("Range of %d and %v: %d, must be %d", c.before, c.further, got, c.want)
+		}
+	}
+}
+
+func TestNodeAndK(t *testing.T) {
+	for _, c := range []struct {
+		n       int
+		node, k bool
+	}{
+		{math.MinInt, false, false},
+		{-1, false, false},
+		{0, true, false},
+		{1, true, true},
+		{16, true, true},
+		{17, true, false},
+		{api.MaxNode, true, false},
+		{api.MaxNode + 1, false, false},
+		{math.MaxInt, false, false},
+	} {
+		if Node(c.n) != c.node || K(c.n) != c.k {
+			t.Errorf("Node and K of %d: %t %t, must be %t %t", c.n, Node(c.n), K(c.n), c.node, c.k)
 		}
 	}
 }

@@ -132,6 +132,29 @@ func Binary(n uint64, width int) string {
 // Unary spells a number as that many signs 0, and a 1.
 func Unary(n int) string { return strings.Repeat("0", n) + "1" }
 
+// Least spells a number less than m with as few signs as possible.
+func Least(n, m uint64) string {
+	s := 0
+	for uint64(1)<<s < m {
+		s++
+	}
+	d := 1<<s - m
+	if n < d {
+		return Binary(n, s-1)
+	}
+	return Binary(n+d, s)
+}
+
+// Zeta spells the Zeta code with k of a number.
+func Zeta(n uint64, k int) string {
+	h := 0
+	for (n+1)>>((h+1)*k) != 0 {
+		h++
+	}
+	low, high := uint64(1)<<(h*k), uint64(1)<<((h+1)*k)
+	return Unary(h) + Least(n+1-low, high-low)
+}
+
 // Numbers returns all numbers less than 300, and then those around each power of 2, up to MaxNum.
 func Numbers() []uint64 {
 	var all []uint64

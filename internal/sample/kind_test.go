@@ -77,6 +77,12 @@ func TestSpellings(t *testing.T) {
 	if Unary(0) != "1" || Unary(3) != "0001" {
 		t.Error("Unary does not spell the code")
 	}
+	if Least(0, 1) != "" || Least(1, 5) != "01" || Least(3, 5) != "110" || Least(4, 5) != "111" {
+		t.Error("Least does not spell the number")
+	}
+	if Zeta(0, 1) != "1" || Zeta(6, 1) != "00111" || Zeta(0, 2) != "10" || Zeta(6, 2) != "01011" || Zeta(0, 16) != "1"+strings.Repeat("0", 15) {
+		t.Error("Zeta does not spell the code")
+	}
 }
 
 func TestNumbers(t *testing.T) {
