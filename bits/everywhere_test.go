@@ -14,15 +14,6 @@ func oddInts() []int {
 	return []int{math.MinInt, -1, 0, 1, 7, 8, 63, 64, 65, api.MaxLen - 1, api.MaxLen, api.MaxLen + 1, math.MaxInt}
 }
 
-// oddBits are right and wrong sequences of bits.
-func oddBits() []api.Bits {
-	all := []api.Bits{{}, sample.Bits("1"), sample.Bits(sample.Mixed(9)), sample.Bits(sample.Mixed(api.MaxLen))}
-	for _, w := range sample.WrongBits() {
-		all = append(all, w.Bits)
-	}
-	return all
-}
-
 func TestP1ReturnsForAllArguments(t *testing.T) {
 	noBits := func(call string, got api.Bits, err api.Errno) {
 		if err != api.OK && (got.Len != 0 || len(got.Bytes) != 0) {
@@ -32,7 +23,7 @@ func TestP1ReturnsForAllArguments(t *testing.T) {
 			t.Errorf("%s: the result %v is not bits", call, got)
 		}
 	}
-	for _, b := range oddBits() {
+	for _, b := range sample.OddBits() {
 		for _, x := range oddInts() {
 			for _, y := range oddInts() {
 				got, err := bits.Put(b, uint64(x), y)
@@ -44,7 +35,7 @@ func TestP1ReturnsForAllArguments(t *testing.T) {
 				}
 			}
 		}
-		for _, c := range oddBits() {
+		for _, c := range sample.OddBits() {
 			got, err := bits.Join(b, c)
 			noBits("Join", got, err)
 		}

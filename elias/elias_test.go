@@ -11,19 +11,13 @@ import (
 	"lampwright/internal/sample"
 )
 
-// spellGamma: the 1 bit that ends the unary code is the highest bit of n + 1.
-func spellGamma(n uint64) string {
-	text := strconv.FormatUint(n+1, 2)
-	return strings.Repeat("0", len(text)-1) + text
-}
-
 func spellDelta(n uint64) string {
 	text := strconv.FormatUint(n+1, 2)
-	return spellGamma(uint64(len(text)-1)) + text[1:]
+	return sample.Gamma(uint64(len(text)-1)) + text[1:]
 }
 
 func gamma() sample.Kind {
-	return sample.Kind{Name: "ReadGamma", Spell: spellGamma, Read: elias.ReadGamma}
+	return sample.Kind{Name: "ReadGamma", Spell: sample.Gamma, Read: elias.ReadGamma}
 }
 
 func delta() sample.Kind {
@@ -72,7 +66,7 @@ func TestC1CodesByHand(t *testing.T) {
 
 func TestC1CodesOfEachSize(t *testing.T) {
 	for _, n := range sample.Numbers() {
-		wantCodes(t, n, spellGamma(n), spellDelta(n), api.OK)
+		wantCodes(t, n, sample.Gamma(n), spellDelta(n), api.OK)
 	}
 }
 
@@ -138,11 +132,11 @@ func TestC2LengthsThatAreTooGreat(t *testing.T) {
 	sample.WantRead(t, "ReadDelta", elias.ReadDelta, longest, 0, 0, 0, api.ErrRange)
 
 	for _, k := range []uint64{64, 65, 126, 127, 1 << 32, api.MaxNum, api.MaxNum + 1, 1 << 62, math.MaxUint64 - 1} {
-		delta().WantEachPart(t, spellGamma(k), api.ErrShort)
-		delta().WantError(t, spellGamma(k), api.ErrRange)
+		delta().WantEachPart(t, sample.Gamma(k), api.ErrShort)
+		delta().WantError(t, sample.Gamma(k), api.ErrRange)
 	}
-	delta().WantEachPart(t, spellGamma(63)+sample.Mixed(63), api.ErrShort)
-	delta().WantError(t, spellGamma(63)+sample.Mixed(63), api.ErrRange)
+	delta().WantEachPart(t, sample.Gamma(63)+sample.Mixed(63), api.ErrShort)
+	delta().WantError(t, sample.Gamma(63)+sample.Mixed(63), api.ErrRange)
 }
 
 func TestC3LongIsTheNumberOfBits(t *testing.T) {
@@ -151,7 +145,7 @@ func TestC3LongIsTheNumberOfBits(t *testing.T) {
 	wantLong(t, 31, 11, 10, api.OK)
 	wantLong(t, api.MaxNum, 81, 51, api.OK)
 	for _, n := range sample.Numbers() {
-		wantLong(t, n, len(spellGamma(n)), len(spellDelta(n)), api.OK)
+		wantLong(t, n, len(sample.Gamma(n)), len(spellDelta(n)), api.OK)
 	}
 	for _, n := range sample.GreatNumbers() {
 		wantLong(t, n, 0, 0, api.ErrRange)

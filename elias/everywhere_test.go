@@ -40,14 +40,14 @@ func TestP3EachCallIsByItself(t *testing.T) {
 	for range 3 {
 		for _, n := range []uint64{0, 6, 255, 256, api.MaxNum} {
 			code, err := elias.Gamma(n)
-			sample.WantBits(t, "Gamma", code, err, spellGamma(n), api.OK)
+			sample.WantBits(t, "Gamma", code, err, sample.Gamma(n), api.OK)
 			sample.WantRead(t, "ReadGamma", elias.ReadGamma, code, 0, n, code.Len, api.OK)
 			sample.Scribble(code)
 			code, err = elias.Delta(n)
 			sample.WantBits(t, "Delta", code, err, spellDelta(n), api.OK)
 			sample.WantRead(t, "ReadDelta", elias.ReadDelta, code, 0, n, code.Len, api.OK)
 			sample.Scribble(code)
-			wantLong(t, n, len(spellGamma(n)), len(spellDelta(n)), api.OK)
+			wantLong(t, n, len(sample.Gamma(n)), len(spellDelta(n)), api.OK)
 		}
 	}
 }

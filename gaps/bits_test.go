@@ -13,15 +13,6 @@ import (
 	"lampwright/internal/sample"
 )
 
-// spell puts the Zeta codes of gaps one after the other.
-func spell(g []uint64, k int) string {
-	var text strings.Builder
-	for _, gap := range g {
-		text.WriteString(sample.Zeta(gap, k))
-	}
-	return text.String()
-}
-
 // wrongKs are none that k may be.
 func wrongKs() []int { return []int{math.MinInt, -1, 0, 17, 18, math.MaxInt} }
 
@@ -64,7 +55,7 @@ func TestI3WriteSpellsTheGaps(t *testing.T) {
 	for k := 1; k <= 16; k++ {
 		for _, l := range append(sample.Rising(7), sample.EdgeLists()...) {
 			for _, at := range places() {
-				wantWrite(t, l, at, k, spell(distances(l, at), k), api.OK)
+				wantWrite(t, l, at, k, sample.Gaps(l, at, k), api.OK)
 			}
 		}
 	}
@@ -77,10 +68,10 @@ func TestI3WriteAlwaysHasRoom(t *testing.T) {
 		t.Errorf("Write: %d bits, %d", got.Len, err)
 	}
 	for k := 1; k <= 16; k++ {
-		wantWrite(t, far, top, k, spell(distances(far, top), k), api.OK)
+		wantWrite(t, far, top, k, sample.Gaps(far, top, k), api.OK)
 		for _, step := range []int{1, 2, 3, 1023, 1024, 2047, 2048, 2049, top / api.MaxList} {
 			l := sample.Steps(0, step, api.MaxList)
-			wantWrite(t, l, top, k, spell(distances(l, top), k), api.OK)
+			wantWrite(t, l, top, k, sample.Gaps(l, top, k), api.OK)
 		}
 	}
 }
@@ -107,7 +98,7 @@ func TestI3ReadReadsWhatIsWritten(t *testing.T) {
 	for k := 1; k <= 16; k++ {
 		for i, l := range append(sample.Rising(6), sample.EdgeLists()...) {
 			at := places()[i%len(places())]
-			text := spell(distances(l, at), k)
+			text := sample.Gaps(l, at, k)
 			start := sample.Mixed(i % 11)
 			for _, end := range []string{"", "0", "1", sample.Mixed(70)} {
 				if len(start+text+end) <= api.MaxLen {
@@ -201,7 +192,7 @@ func TestI3ReadNothing(t *testing.T) {
 
 func TestI3ReadUpToTheLastBit(t *testing.T) {
 	l := []int{3, 4, 900, top}
-	text := spell(distances(l, 8), 3)
+	text := sample.Gaps(l, 8, 3)
 	from := api.MaxLen - len(text)
 	full := sample.Bits(sample.Mixed(from) + text)
 	wantRead(t, full, from, 8, 3, 4, l, api.MaxLen, api.OK)

@@ -10,27 +10,9 @@ import (
 	"lampwright/internal/sample"
 )
 
-// oddLists are right and wrong lists.
-func oddLists() [][]int {
-	all := append(sample.EdgeLists(), nil, []int{}, []int{2, 4, 5, 20}, []int{math.MaxInt, math.MinInt})
-	for _, w := range sample.WrongLists() {
-		all = append(all, w.List)
-	}
-	return all
-}
-
 // oddGaps are right and wrong lists of gaps.
 func oddGaps() [][]uint64 {
 	return append(longGaps(), nil, []uint64{}, []uint64{9, 1, 0, 14}, []uint64{1}, []uint64{math.MaxUint64, 0}, []uint64{0, math.MaxUint64}, make([]uint64, api.MaxList))
-}
-
-// oddBits are right and wrong sequences of bits.
-func oddBits() []api.Bits {
-	all := []api.Bits{{}, sample.Bits("1"), sample.Bits("0"), sample.Bits(sample.Mixed(100)), sample.Bits(sample.Mixed(api.MaxLen))}
-	for _, w := range sample.WrongBits() {
-		all = append(all, w.Bits)
-	}
-	return all
 }
 
 // oddNumbers are right and wrong positions, nodes, and numbers of elements.
@@ -40,7 +22,7 @@ func oddNumbers() []int {
 
 func TestP1ReturnsForAllArguments(t *testing.T) {
 	for _, at := range oddNumbers() {
-		for _, l := range oddLists() {
+		for _, l := range sample.OddLists() {
 			if g, err := gaps.Gaps(l, at); err != api.OK && len(g) != 0 || err == api.OK && len(g) != len(l) {
 				t.Errorf("Gaps: %v %d", g, err)
 			}
@@ -60,7 +42,7 @@ func TestP1ReturnsForAllArguments(t *testing.T) {
 }
 
 func TestP1ReadReturnsForAllArguments(t *testing.T) {
-	for _, b := range oddBits() {
+	for _, b := range sample.OddBits() {
 		for _, from := range oddNumbers() {
 			for _, at := range oddNumbers() {
 				for _, k := range []int{-1, 0, 1, 5, 16, 17} {
@@ -78,7 +60,7 @@ func TestP1ReadReturnsForAllArguments(t *testing.T) {
 
 // A result that shared memory with an argument would carry the changes into it.
 func TestP2ArgumentsStayAsTheyAre(t *testing.T) {
-	for _, list := range oddLists() {
+	for _, list := range sample.OddLists() {
 		m := sample.Around(list, 1)
 		gaps.Check(m.List)
 		g, _ := gaps.Gaps(m.List, 5)

@@ -12,22 +12,6 @@ import (
 
 const top = api.MaxNode
 
-// distances are the gaps of an increasing list: Fold counts the numbers 0, -1, 1, -2, 2, and so on.
-func distances(l []int, at int) []uint64 {
-	var g []uint64
-	for i, n := range l {
-		switch {
-		case i > 0:
-			g = append(g, uint64(n-1-l[i-1]))
-		case n >= at:
-			g = append(g, uint64(2*(n-at)))
-		default:
-			g = append(g, uint64(2*(at-n)-1))
-		}
-	}
-	return g
-}
-
 // wrongPlaces are none that a list can be relative to.
 func wrongPlaces() []int { return []int{math.MinInt, -top, -1, top + 1, 2 * top, math.MaxInt} }
 
@@ -118,7 +102,7 @@ func TestI2GapsByHand(t *testing.T) {
 func TestI2GapsAndBack(t *testing.T) {
 	for _, l := range append(sample.Rising(9), sample.EdgeLists()...) {
 		for _, at := range places() {
-			g := distances(l, at)
+			g := sample.Distances(l, at)
 			wantGaps(t, l, at, g, api.OK)
 			wantBack(t, g, at, l, api.OK)
 		}

@@ -17,15 +17,6 @@ func oddLists() [][]int {
 	return append(all, make([]int, api.MaxSigns), make([]int, api.MaxSigns+1), make([]int, api.MaxPacked), make([]int, api.MaxPacked+1))
 }
 
-// oddBits are right and wrong sequences of bits.
-func oddBits() []api.Bits {
-	all := []api.Bits{{}, sample.Bits("1"), sample.Bits("0"), sample.Bits(sample.Mixed(100)), sample.Bits(sample.Mixed(api.MaxLen))}
-	for _, w := range sample.WrongBits() {
-		all = append(all, w.Bits)
-	}
-	return all
-}
-
 func TestP1ReturnsForAllArguments(t *testing.T) {
 	for _, x := range oddLists() {
 		if l, err := huff.Lengths(x); err != api.OK && len(l) != 0 || err == api.OK && len(l) != len(x) {
@@ -41,7 +32,7 @@ func TestP1ReturnsForAllArguments(t *testing.T) {
 			if bits.Check(packed) != api.OK || err != api.OK && (len(l) != 0 || packed.Len != 0) {
 				t.Errorf("Pack: %v %v beside the error %d", l, packed, err)
 			}
-			for _, b := range oddBits() {
+			for _, b := range sample.OddBits() {
 				if signs, err := huff.Unpack(x, b, n); err != api.OK && len(signs) != 0 || err == api.OK && len(signs) != n {
 					t.Errorf("Unpack of %d: %v %d", n, signs, err)
 				}

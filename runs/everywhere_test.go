@@ -1,7 +1,6 @@
 package runs_test
 
 import (
-	"math"
 	"slices"
 	"testing"
 
@@ -9,15 +8,6 @@ import (
 	"lampwright/internal/sample"
 	"lampwright/runs"
 )
-
-// oddLists are right and wrong lists.
-func oddLists() [][]int {
-	all := append(sample.EdgeLists(), nil, []int{}, []int{2, 3, 4, 5, 9, 20}, []int{math.MaxInt, math.MinInt})
-	for _, w := range sample.WrongLists() {
-		all = append(all, w.List)
-	}
-	return all
-}
 
 // oddRuns are right and wrong lists of runs.
 func oddRuns() [][]api.Run {
@@ -37,7 +27,7 @@ func flipRuns(r []api.Run) {
 }
 
 func TestP1ReturnsForAllArguments(t *testing.T) {
-	for _, l := range oddLists() {
+	for _, l := range sample.OddLists() {
 		for _, least := range append(wrongLeasts(), 2, 3, most) {
 			r, rest, err := runs.Split(l, least)
 			if err != api.OK && len(r)+len(rest) != 0 {
@@ -60,7 +50,7 @@ func TestP1ReturnsForAllArguments(t *testing.T) {
 
 // A result that shared memory with an argument would carry the changes into it.
 func TestP2ArgumentsStayAsTheyAre(t *testing.T) {
-	for _, list := range oddLists() {
+	for _, list := range sample.OddLists() {
 		m := sample.Around(list, 1)
 		for _, least := range []int{2, 3, most} {
 			r, rest, _ := runs.Split(m.List, least)

@@ -15,28 +15,6 @@ const most, top = api.MaxList, api.MaxNode
 // wrongLeasts are none that least may be.
 func wrongLeasts() []int { return []int{math.MinInt, -1, 0, 1, most + 1, math.MaxInt} }
 
-// split looks for each number how far its run leads in both directions.
-func split(l []int, least int) ([]api.Run, []int) {
-	var long []api.Run
-	var rest []int
-	for _, n := range l {
-		from, after := n, n
-		for slices.Contains(l, from-1) {
-			from--
-		}
-		for slices.Contains(l, after) {
-			after++
-		}
-		switch {
-		case after-from < least:
-			rest = append(rest, n)
-		case n == from:
-			long = append(long, api.Run{From: from, Many: after - from})
-		}
-	}
-	return long, rest
-}
-
 func wantSplit(t *testing.T, l []int, least int, r []api.Run, rest []int, err api.Errno) {
 	t.Helper()
 	gotR, gotRest, gotErr := runs.Split(l, least)
@@ -79,7 +57,7 @@ func TestJ1SplitByHand(t *testing.T) {
 func TestJ1SplitOfEachShortList(t *testing.T) {
 	for _, l := range sample.Rising(10) {
 		for least := 2; least < 12; least++ {
-			r, rest := split(l, least)
+			r, rest := sample.Split(l, least)
 			wantSplit(t, l, least, r, rest, api.OK)
 		}
 	}
@@ -90,7 +68,7 @@ func TestJ1SplitOfLongLists(t *testing.T) {
 	slices.Sort(pairs)
 	for _, l := range append(sample.EdgeLists(), pairs) {
 		for _, least := range []int{2, 3, most / 2, most/2 + 1, most - 1, most} {
-			r, rest := split(l, least)
+			r, rest := sample.Split(l, least)
 			wantSplit(t, l, least, r, rest, api.OK)
 		}
 	}

@@ -10,6 +10,9 @@ import (
 // maxK is the greatest k of Zeta codes.
 const maxK = 16
 
+// minLeast is the least number of numbers that a run can be asked to have.
+const minLeast = 2
+
 // Range returns the error that was found before, if any; else ErrRange if one of the further conditions does not hold.
 func Range(before api.Errno, further ...bool) api.Errno {
 	if before == api.OK && slices.Contains(further, false) {
@@ -23,6 +26,9 @@ func Node(n int) bool { return 0 <= n && n <= api.MaxNode }
 
 // K reports whether there is a Zeta code with k.
 func K(k int) bool { return 1 <= k && k <= maxK }
+
+// Least reports whether runs can be asked to have at least n numbers.
+func Least(n int) bool { return minLeast <= n && n <= api.MaxList }
 
 // Each returns the error of the first element of a list that has one.
 func Each[E any](l []E, errorOf func(E) api.Errno) api.Errno {

@@ -50,6 +50,14 @@ func TestNodeAndK(t *testing.T) {
 	}
 }
 
+func TestLeast(t *testing.T) {
+	for n, want := range map[int]bool{math.MinInt: false, -1: false, 0: false, 1: false, 2: true, 3: true, api.MaxList: true, api.MaxList + 1: false, math.MaxInt: false} {
+		if Least(n) != want {
+			t.Errorf("Least of %d: %t, must be %t", n, !want, want)
+		}
+	}
+}
+
 func TestEach(t *testing.T) {
 	for _, c := range []struct {
 		list []api.Errno

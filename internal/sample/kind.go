@@ -2,6 +2,7 @@ package sample
 
 import (
 	"math"
+	"strconv"
 	"strings"
 
 	"lampwright/api"
@@ -131,6 +132,12 @@ func Binary(n uint64, width int) string {
 
 // Unary spells a number as that many signs 0, and a 1.
 func Unary(n int) string { return strings.Repeat("0", n) + "1" }
+
+// Gamma spells the gamma code of a number: the 1 that ends the unary code is the highest bit of n + 1.
+func Gamma(n uint64) string {
+	text := strconv.FormatUint(n+1, 2)
+	return strings.Repeat("0", len(text)-1) + text
+}
 
 // Least spells a number less than m with as few signs as possible.
 func Least(n, m uint64) string {

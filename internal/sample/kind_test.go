@@ -77,6 +77,9 @@ func TestSpellings(t *testing.T) {
 	if Unary(0) != "1" || Unary(3) != "0001" {
 		t.Error("Unary does not spell the code")
 	}
+	if Gamma(0) != "1" || Gamma(1) != "010" || Gamma(6) != "00111" || Gamma(7) != "0001000" {
+		t.Error("Gamma does not spell the code")
+	}
 	if Least(0, 1) != "" || Least(1, 5) != "01" || Least(3, 5) != "110" || Least(4, 5) != "111" {
 		t.Error("Least does not spell the number")
 	}

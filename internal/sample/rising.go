@@ -3,6 +3,7 @@ package sample
 import (
 	"math"
 	"slices"
+	"strings"
 
 	"lampwright/api"
 )
@@ -44,6 +45,62 @@ func EdgeLists() [][]int {
 		Steps(1, top/most, most),
 		slices.Concat(Steps(0, 1, most/2), Steps(top-most/2+1, 1, most/2)),
 	}
+}
+
+// Distances returns the gaps of an increasing list relative to a number: Fold counts the numbers 0, -1, 1, -2, 2, and so on.
+func Distances(l []int, at int) []uint64 {
+	var g []uint64
+	for i, n := range l {
+		switch {
+		case i > 0:
+			g = append(g, uint64(n-1-l[i-1]))
+		case n >= at:
+			g = append(g, uint64(2*(n-at)))
+		default:
+			g = append(g, uint64(2*(at-n)-1))
+		}
+	}
+	return g
+}
+
+// Gaps spells these gaps as Zeta codes with k.
+func Gaps(l []int, at, k int) string {
+	var text strings.Builder
+	for _, gap := range Distances(l, at) {
+		text.WriteString(Zeta(gap, k))
+	}
+	return text.String()
+}
+
+// Split returns the runs of an increasing list with at least least numbers, and all other numbers: it looks for each number how far its run leads in both directions.
+func Split(l []int, least int) ([]api.Run, []int) {
+	var long []api.Run
+	var rest []int
+	for _, n := range l {
+		from, after := n, n
+		for slices.Contains(l, from-1) {
+			from--
+		}
+		for slices.Contains(l, after) {
+			after++
+		}
+		switch {
+		case after-from < least:
+			rest = append(rest, n)
+		case n == from:
+			long = append(long, api.Run{From: from, Many: after - from})
+		}
+	}
+	return long, rest
+}
+
+// OddLists returns right and wrong increasing lists.
+func OddLists() [][]int {
+	all := append(EdgeLists(), nil, []int{}, []int{2, 4, 5, 20}, []int{2, 3, 4, 5, 9, 20}, []int{math.MaxInt, math.MinInt})
+	for _, w := range WrongLists() {
+		all = append(all, w.List)
+	}
+	return all
 }
 
 // WrongList is one that is not increasing, and the error that says so.

@@ -36,6 +36,22 @@ func TestSteps(t *testing.T) {
 	}
 }
 
+func TestDistancesAndGaps(t *testing.T) {
+	if !slices.Equal(Distances([]int{2, 4, 5, 20}, 7), []uint64{9, 1, 0, 14}) || !slices.Equal(Distances([]int{7}, 5), []uint64{4}) {
+		t.Error("Distances does not return the gaps")
+	}
+	if Gaps(nil, 7, 1) != "" || Gaps([]int{2, 4, 5, 20}, 7, 3) != "0100010"+"1010"+"100"+"0100111" {
+		t.Error("Gaps does not spell the gaps")
+	}
+}
+
+func TestSplit(t *testing.T) {
+	r, rest := Split([]int{2, 3, 4, 5, 9, 20, 21, 30, 31, 32}, 3)
+	if !slices.Equal(r, []api.Run{{From: 2, Many: 4}, {From: 30, Many: 3}}) || !slices.Equal(rest, []int{9, 20, 21}) {
+		t.Errorf("Split: %v %v", r, rest)
+	}
+}
+
 // rises reports whether all elements are greater than those before, and from 0 to MaxNode.
 func rises(l []int) bool {
 	sorted := slices.Clone(l)

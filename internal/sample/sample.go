@@ -44,6 +44,15 @@ func Mixed(n int) string {
 	return text.String()
 }
 
+// OddBits returns right and wrong sequences of bits.
+func OddBits() []api.Bits {
+	all := []api.Bits{{}, Bits("1"), Bits("0"), Bits(Mixed(100)), Bits(Mixed(api.MaxLen))}
+	for _, w := range WrongBits() {
+		all = append(all, w.Bits)
+	}
+	return all
+}
+
 // Wrong is a sequence that is not one of bits, and the error that says so.
 type Wrong struct {
 	Bits api.Bits
