@@ -96,7 +96,7 @@ func TestL2WriteOfAsMuchAsThereCanBe(t *testing.T) {
 	}
 }
 
-// far is a list of which the gaps need as many bits as possible with K 1: 7346, and so each other way of writing a list has room in MaxLen bits, too.
+// far is a list whose gaps need as many bits as possible: 7346, with K 1. With blocks and runs, no list needs more than 7423, which is less than MaxLen.
 func far() []int {
 	return slices.Concat(sample.Steps(0, 2048, 87), sample.Steps(86*2048+4096, 4096, 213))
 }
