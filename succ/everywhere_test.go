@@ -10,13 +10,8 @@ import (
 	"lampwright/succ"
 )
 
-// oddHows are right and wrong ways of encoding.
-func oddHows() []api.How {
-	return append(wrongHows(), api.How{K: 1}, api.How{Least: 2, K: 16}, api.How{Back: 1, K: 3}, api.How{Back: 7, Least: most, K: 2})
-}
-
 func TestP1WriteReturnsForAllArguments(t *testing.T) {
-	for _, h := range oddHows() {
+	for _, h := range sample.OddHows() {
 		for _, l := range sample.OddLists() {
 			for _, from := range [][]int{nil, {3, 9, 11}, {3, 3}, sample.Steps(0, 2, most), sample.Steps(0, 2, most+1), {math.MaxInt, math.MinInt}} {
 				for _, node := range []int{math.MinInt, -1, 0, 5, top, top + 1, math.MaxInt} {
@@ -35,7 +30,7 @@ func TestP1WriteReturnsForAllArguments(t *testing.T) {
 }
 
 func TestP1ReadReturnsForAllArguments(t *testing.T) {
-	for _, h := range oddHows() {
+	for _, h := range sample.OddHows() {
 		for _, b := range sample.OddBits() {
 			for _, at := range []int{math.MinInt, -1, 0, 1, 50, 100, api.MaxLen, math.MaxInt} {
 				for _, node := range []int{math.MinInt, -1, 0, 5, top, top + 1, math.MaxInt} {
@@ -53,7 +48,7 @@ func TestP1ReadReturnsForAllArguments(t *testing.T) {
 
 // A result that shared memory with an argument would carry the changes into it.
 func TestP2ArgumentsStayAsTheyAre(t *testing.T) {
-	for _, h := range oddHows() {
+	for _, h := range sample.OddHows() {
 		for _, list := range sample.OddLists() {
 			from, l := sample.Around(list, 1), sample.Around(list, 0)
 			for _, other := range [][]int{nil, {3, 9, 11}, {2, 3, 4, 5, 9, 20}} {
@@ -69,7 +64,7 @@ func TestP2ArgumentsStayAsTheyAre(t *testing.T) {
 			}
 		}
 		for _, c := range mixedLists() {
-			g := sample.Guarded(spell(7, c[0], c[1], api.How{Back: h.Back, Least: max(h.Least, 0), K: 3}))
+			g := sample.Guarded(sample.Succ(7, c[0], c[1], api.How{Back: h.Back, Least: max(h.Least, 0), K: 3}))
 			for at := range g.Bits.Len + 1 {
 				l, _, _ := succ.Read(g.Bits, at, 7, c[1], h)
 				sample.Flip(l)
@@ -82,12 +77,12 @@ func TestP2ArgumentsStayAsTheyAre(t *testing.T) {
 }
 
 func TestP2EmptyListsCanBeNilOrNot(t *testing.T) {
-	for _, h := range hows() {
+	for _, h := range sample.Hows() {
 		for _, from := range [][]int{nil, {}} {
 			for _, l := range [][]int{nil, {}} {
 				wantWrite(t, 5, l, from, h, "1", api.OK)
 			}
-			wantWrite(t, 5, []int{5}, from, h, spell(5, []int{5}, nil, h), api.OK)
+			wantWrite(t, 5, []int{5}, from, h, sample.Succ(5, []int{5}, nil, h), api.OK)
 			for _, b := range []api.Bits{{}, {Bytes: []byte{}}} {
 				wantRead(t, b, 0, 5, from, h, nil, 0, api.ErrForm)
 			}
@@ -98,7 +93,7 @@ func TestP2EmptyListsCanBeNilOrNot(t *testing.T) {
 
 func TestP3EachCallIsByItself(t *testing.T) {
 	h, l, from := api.How{Back: 1, Least: 3, K: 3}, []int{2, 3, 4, 5, 9, 20}, []int{3, 9, 11}
-	text := spell(7, l, from, h)
+	text := sample.Succ(7, l, from, h)
 	for range 3 {
 		wantWrite(t, 7, l, from, h, text, api.OK)
 		wantRead(t, sample.Bits(text), 0, 7, from, h, l, len(text), api.OK)

@@ -23,10 +23,10 @@ func mixedLists() [][2][]int {
 }
 
 func TestL3ReadReadsWhatIsWritten(t *testing.T) {
-	for _, h := range hows() {
+	for _, h := range sample.Hows() {
 		for i, c := range mixedLists() {
 			l, from, node := c[0], c[1], []int{0, 2, 7, 30, top, top - 5}[i]
-			text := spell(node, l, from, h)
+			text := sample.Succ(node, l, from, h)
 			for at := range 9 {
 				start := sample.Mixed(at)
 				for _, end := range []string{"", "0", "1", strings.Repeat("0", 70), strings.Repeat("1", 70), sample.Mixed(70)} {
@@ -42,9 +42,9 @@ func TestL3ReadReadsWhatIsWritten(t *testing.T) {
 }
 
 func TestL3ReadUpToTheLastBit(t *testing.T) {
-	for _, h := range hows() {
+	for _, h := range sample.Hows() {
 		for _, c := range mixedLists() {
-			text := spell(7, c[0], c[1], h)
+			text := sample.Succ(7, c[0], c[1], h)
 			at := api.MaxLen - len(text)
 			full := sample.Bits(sample.Mixed(at) + text)
 			wantRead(t, full, at, 7, c[1], h, c[0], api.MaxLen, api.OK)
@@ -71,7 +71,7 @@ func wantShortTexts(t *testing.T, longest, node int, from []int, h api.How) {
 	t.Helper()
 	lists := map[string][]int{}
 	for _, l := range shortLists() {
-		text := spell(node, l, from, h)
+		text := sample.Succ(node, l, from, h)
 		if _, ok := lists[text]; ok {
 			t.Errorf("%s tells two lists", text)
 		}
@@ -124,10 +124,10 @@ func wantNone(t *testing.T, text string, node int, from []int, h api.How) {
 func other(many uint64, node int, h api.How, blocks []int, long []api.Run, single []int) string {
 	text := sample.Gamma(many)
 	if h.Back != 0 {
-		text += spellBlocks(blocks)
+		text += sample.Blocks(blocks)
 	}
 	if h.Least != 0 {
-		text += spellRuns(node, h.Least, long...)
+		text += sample.Runs(node, h.Least, long...)
 	}
 	return text + sample.Gaps(single, node, h.K)
 }
@@ -236,7 +236,7 @@ func TestL3ReadRefusesOtherRuns(t *testing.T) {
 
 func TestL3ReadRefusesNumbersThatMayNotStandThere(t *testing.T) {
 	for _, node := range []int{0, 1, top} {
-		for _, h := range hows() {
+		for _, h := range sample.Hows() {
 			// More elements than there may be, and numbers that no code tells.
 			for _, many := range []uint64{most + 1, 1000, api.MaxNum, api.MaxNum + 1, 1 << 62} {
 				wantNone(t, sample.Gamma(many), node, nil, h)
@@ -268,16 +268,16 @@ func TestL3ReadRefusesNumbersThatMayNotStandThere(t *testing.T) {
 
 // From bits in which one is wrong, a list is read only if they are those that are written for this list.
 func TestL4OneListForBitsAndOneSequenceOfBitsForAList(t *testing.T) {
-	for _, h := range hows() {
+	for _, h := range sample.Hows() {
 		for _, c := range mixedLists() {
-			text, from := spell(7, c[0], c[1], h)+sample.Mixed(40), c[1]
+			text, from := sample.Succ(7, c[0], c[1], h)+sample.Mixed(40), c[1]
 			for i, sign := range text {
 				changed := text[:i] + map[rune]string{'0': "1", '1': "0"}[sign] + text[i+1:]
 				l, after, err := succ.Read(sample.Bits(changed), 0, 7, from, h)
 				if err == api.ErrForm && len(l) == 0 && after == 0 {
 					continue
 				}
-				if err != api.OK || after > len(changed) || spell(7, l, from, h) != changed[:after] {
+				if err != api.OK || after > len(changed) || sample.Succ(7, l, from, h) != changed[:after] {
 					t.Errorf("Read of %s by %v, %v: %v %d %d", changed, from, h, l, after, err)
 				}
 			}
@@ -288,7 +288,7 @@ func TestL4OneListForBitsAndOneSequenceOfBitsForAList(t *testing.T) {
 // These are wrong in this order; what the bits are comes last.
 func TestL3ReadErrors(t *testing.T) {
 	backed, plain := api.How{Back: 1, Least: 3, K: 3}, api.How{Least: 2, K: 1}
-	for _, h := range wrongHows() {
+	for _, h := range sample.WrongHows() {
 		wantRead(t, sample.Bits("1"), 0, 5, nil, h, nil, 0, api.ErrRange)
 		for _, w := range sample.WrongBits() {
 			wantRead(t, w.Bits, -1, -1, []int{3, 3}, h, nil, 0, api.ErrRange)

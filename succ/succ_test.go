@@ -13,34 +13,6 @@ import (
 
 const most, top = api.MaxList, api.MaxNode
 
-// hows are ways of encoding, some for all that is written and read, and those at the edges.
-func hows() []api.How {
-	var all []api.How
-	for _, back := range []int{0, 1, api.MaxBack} {
-		for _, least := range []int{0, 2, 3, most} {
-			for _, k := range []int{1, 2, 3, 16} {
-				all = append(all, api.How{Back: back, Least: least, K: k})
-			}
-		}
-	}
-	return all
-}
-
-// wrongHows are ways of encoding that are not right.
-func wrongHows() []api.How {
-	all := []api.How{{}, {Back: 8, Least: 1, K: 17}, {Back: -1, Least: -1, K: -1}}
-	for _, back := range []int{math.MinInt, -1, 8, 9, math.MaxInt} {
-		all = append(all, api.How{Back: back, Least: 2, K: 1}, api.How{Back: back, K: 16})
-	}
-	for _, least := range []int{math.MinInt, -2, -1, 1, most + 1, math.MaxInt} {
-		all = append(all, api.How{Least: least, K: 1}, api.How{Back: 7, Least: least, K: 16})
-	}
-	for _, k := range []int{math.MinInt, -1, 0, 17, 18, math.MaxInt} {
-		all = append(all, api.How{K: k}, api.How{Back: 7, Least: most, K: k})
-	}
-	return all
-}
-
 // wrongNodes are numbers that no node has.
 func wrongNodes() []int { return []int{math.MinInt, -top, -1, top + 1, 2 * top, math.MaxInt} }
 
@@ -72,12 +44,12 @@ func TestL1Check(t *testing.T) {
 			}
 		}
 	}
-	for _, h := range hows() {
+	for _, h := range sample.Hows() {
 		if err := succ.Check(h); err != api.OK {
 			t.Errorf("Check of %v: %d", h, err)
 		}
 	}
-	for _, h := range wrongHows() {
+	for _, h := range sample.WrongHows() {
 		if err := succ.Check(h); err != api.ErrRange {
 			t.Errorf("Check of %v: %d", h, err)
 		}

@@ -56,11 +56,11 @@ func TestL2WriteByHand(t *testing.T) {
 }
 
 func TestL2WriteOfEachShortList(t *testing.T) {
-	for _, h := range hows() {
+	for _, h := range sample.Hows() {
 		for i, l := range sample.Rising(7) {
 			for _, from := range sample.Rising(5) {
 				node := i % 9
-				wantWrite(t, node, l, from, h, spell(node, l, from, h), api.OK)
+				wantWrite(t, node, l, from, h, sample.Succ(node, l, from, h), api.OK)
 			}
 		}
 	}
@@ -71,7 +71,7 @@ func TestL2WriteOfEdgeLists(t *testing.T) {
 		for i, l := range sample.EdgeLists() {
 			for k, from := range sample.EdgeLists() {
 				node := []int{0, 1, 700, top / 2, top - 1, top}[(i+k)%6]
-				text := spell(node, l, from, h)
+				text := sample.Succ(node, l, from, h)
 				wantWrite(t, node, l, from, h, text, api.OK)
 				wantRead(t, sample.Bits(text), 0, node, from, h, l, len(text), api.OK)
 			}
@@ -88,8 +88,8 @@ func TestL2WriteOfAsMuchAsThereCanBe(t *testing.T) {
 		{odd, full}, {even, full}, {pairs, nil}, {pairs, odd}, {full, even}, {full, nil}, {full, full},
 		{full[most-1:], full}, {full[most-2:], full}, {full[:most-1], full}, {full[:1], full}, {[]int{most}, full},
 	} {
-		for _, h := range hows() {
-			text := spell(most, c.l, c.from, h)
+		for _, h := range sample.Hows() {
+			text := sample.Succ(most, c.l, c.from, h)
 			wantWrite(t, most, c.l, c.from, h, text, api.OK)
 			wantRead(t, sample.Bits(text), 0, most, c.from, h, c.l, len(text), api.OK)
 		}
@@ -102,9 +102,9 @@ func far() []int {
 }
 
 func TestL2WriteAlwaysHasRoom(t *testing.T) {
-	for _, h := range hows() {
+	for _, h := range sample.Hows() {
 		for _, from := range [][]int{nil, far(), sample.Steps(0, 1, most), sample.Steps(0, 2048, most), sample.Steps(2048, 4096, 200)} {
-			text := spell(top, far(), from, h)
+			text := sample.Succ(top, far(), from, h)
 			wantWrite(t, top, far(), from, h, text, api.OK)
 			wantRead(t, sample.Bits(text), 0, top, from, h, far(), len(text), api.OK)
 		}
@@ -116,7 +116,7 @@ func TestL2WriteAlwaysHasRoom(t *testing.T) {
 
 func TestL2WriteErrors(t *testing.T) {
 	backed, plain := api.How{Back: 1, Least: 3, K: 3}, api.How{Least: 2, K: 1}
-	for _, h := range wrongHows() {
+	for _, h := range sample.WrongHows() {
 		for _, node := range append(wrongNodes(), 0, top) {
 			wantWrite(t, node, nil, nil, h, "", api.ErrRange)
 			wantWrite(t, node, []int{3, 3}, []int{3, 3}, h, "", api.ErrRange)
@@ -138,7 +138,7 @@ func TestL2WriteErrors(t *testing.T) {
 		// Also a reference of which nothing is written is checked, if there is one.
 		for _, l := range [][]int{nil, {3, 5}} {
 			wantWrite(t, 5, l, w.List, backed, "", w.Err)
-			wantWrite(t, 5, l, w.List, plain, spell(5, l, nil, plain), api.OK)
+			wantWrite(t, 5, l, w.List, plain, sample.Succ(5, l, nil, plain), api.OK)
 		}
 	}
 }

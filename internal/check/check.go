@@ -30,6 +30,21 @@ func K(k int) bool { return 1 <= k && k <= maxK }
 // Least reports whether runs can be asked to have at least n numbers.
 func Least(n int) bool { return minLeast <= n && n <= api.MaxList }
 
+// Rising returns the error of the first element of a list that has one: it may not stand there, as no number less than 0 may, or it is not greater than the one before.
+func Rising(l []int, may func(int) bool) api.Errno {
+	before := -1
+	return Each(l, func(n int) api.Errno {
+		if !may(n) {
+			return api.ErrRange
+		}
+		if n <= before {
+			return api.ErrState
+		}
+		before = n
+		return api.OK
+	})
+}
+
 // Each returns the error of the first element of a list that has one.
 func Each[E any](l []E, errorOf func(E) api.Errno) api.Errno {
 	for _, element := range l {

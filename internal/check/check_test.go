@@ -58,6 +58,31 @@ func TestLeast(t *testing.T) {
 	}
 }
 
+func TestRising(t *testing.T) {
+	for _, c := range []struct {
+		list []int
+		want api.Errno
+	}{
+		{nil, api.OK},
+		{[]int{0}, api.OK},
+		{[]int{0, 1, 5, 9}, api.OK},
+		{[]int{0, 0}, api.ErrState},
+		{[]int{5, 4}, api.ErrState},
+		{[]int{-1}, api.ErrRange},
+		{[]int{4, 10}, api.ErrRange},
+		// The first element with an error determines it, and of its errors it is ErrRange.
+		{[]int{5, 4, 10}, api.ErrState},
+		{[]int{5, 10, 4}, api.ErrRange},
+		{[]int{10, 10}, api.ErrRange},
+		{[]int{5, -1}, api.ErrRange},
+		{[]int{math.MinInt, math.MaxInt}, api.ErrRange},
+	} {
+		if got := Rising(c.list, func(n int) bool { return 0 <= n && n < 10 }); got != c.want {
+			t.Errorf("Rising of %d: %d, must be %d", c.list, got, c.want)
+		}
+	}
+}
+
 func TestEach(t *testing.T) {
 	for _, c := range []struct {
 		list []api.Errno
