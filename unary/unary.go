@@ -2,11 +2,11 @@
 package unary
 
 import (
-	"iter"
 	"slices"
 
 	"lampwright/api"
 	"lampwright/bits"
+	"lampwright/internal/positions"
 )
 
 // Code returns n 0 bits, followed by a 1 bit.
@@ -22,7 +22,7 @@ func Read(b api.Bits, at int) (uint64, int, api.Errno) {
 	if at < 0 || at > b.Len {
 		return 0, 0, api.ErrRange
 	}
-	for end := range ones(b, at) {
+	for end := range positions.Of(b, 1, at, b.Len) {
 		return uint64(end - at), end + 1, api.OK
 	}
 	return 0, 0, api.ErrShort
@@ -53,7 +53,7 @@ func All(b api.Bits, many int) ([]uint64, int, api.Errno) {
 	}
 	var l []uint64
 	after := 0
-	for end := range ones(b, 0) {
+	for end := range positions.Of(b, 1, 0, b.Len) {
 		if len(l) == many {
 			break
 		}
@@ -68,14 +68,3 @@ func All(b api.Bits, many int) ([]uint64, int, api.Errno) {
 
 // outOfRange reports whether the code of n would have more than MaxLen bits.
 func outOfRange(n uint64) bool { return n >= api.MaxLen }
-
-// ones visits the positions of the 1 bits from position from on.
-func ones(b api.Bits, from int) iter.Seq[int] {
-	return func(yield func(int) bool) {
-		for at := from; at < b.Len; at++ {
-			if bit, _ := bits.Get(b, at, 1); bit == 1 && !yield(at) {
-				return
-			}
-		}
-	}
-}

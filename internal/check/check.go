@@ -31,13 +31,19 @@ func K(k int) bool { return 1 <= k && k <= maxK }
 func Least(n int) bool { return minLeast <= n && n <= api.MaxList }
 
 // Rising returns the error of the first element of a list that has one: it may not stand there, as no number less than 0 may, or it is not greater than the one before.
-func Rising(l []int, may func(int) bool) api.Errno {
+func Rising(l []int, may func(int) bool) api.Errno { return inSteps(l, 1, may) }
+
+// NotDecreasing returns the error of the first element of a list that has one, as Rising does, except that an element can be equal to the one before.
+func NotDecreasing(l []int, may func(int) bool) api.Errno { return inSteps(l, 0, may) }
+
+// inSteps returns the error of the first element of a list that has one: it may not stand there, or it is not greater by step or more than the one before.
+func inSteps(l []int, step int, may func(int) bool) api.Errno {
 	before := -1
 	return Each(l, func(n int) api.Errno {
 		if !may(n) {
 			return api.ErrRange
 		}
-		if n <= before {
+		if n < before+step {
 			return api.ErrState
 		}
 		before = n

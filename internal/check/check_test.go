@@ -58,27 +58,34 @@ func TestLeast(t *testing.T) {
 	}
 }
 
-func TestRising(t *testing.T) {
+func TestRisingAndNotDecreasing(t *testing.T) {
 	for _, c := range []struct {
-		list []int
-		want api.Errno
+		list                  []int
+		rising, notDecreasing api.Errno
 	}{
-		{nil, api.OK},
-		{[]int{0}, api.OK},
-		{[]int{0, 1, 5, 9}, api.OK},
-		{[]int{0, 0}, api.ErrState},
-		{[]int{5, 4}, api.ErrState},
-		{[]int{-1}, api.ErrRange},
-		{[]int{4, 10}, api.ErrRange},
+		{nil, api.OK, api.OK},
+		{[]int{0}, api.OK, api.OK},
+		{[]int{0, 1, 5, 9}, api.OK, api.OK},
+		{[]int{0, 0}, api.ErrState, api.OK},
+		{[]int{0, 1, 5, 5, 5, 9}, api.ErrState, api.OK},
+		{[]int{1, 0}, api.ErrState, api.ErrState},
+		{[]int{5, 4}, api.ErrState, api.ErrState},
+		{[]int{-1}, api.ErrRange, api.ErrRange},
+		{[]int{4, 10}, api.ErrRange, api.ErrRange},
 		// The first element with an error determines it, and of its errors it is ErrRange.
-		{[]int{5, 4, 10}, api.ErrState},
-		{[]int{5, 10, 4}, api.ErrRange},
-		{[]int{10, 10}, api.ErrRange},
-		{[]int{5, -1}, api.ErrRange},
-		{[]int{math.MinInt, math.MaxInt}, api.ErrRange},
+		{[]int{5, 4, 10}, api.ErrState, api.ErrState},
+		{[]int{5, 5, 10}, api.ErrState, api.ErrRange},
+		{[]int{5, 10, 4}, api.ErrRange, api.ErrRange},
+		{[]int{10, 10}, api.ErrRange, api.ErrRange},
+		{[]int{5, -1}, api.ErrRange, api.ErrRange},
+		{[]int{math.MinInt, math.MaxInt}, api.ErrRange, api.ErrRange},
 	} {
-		if got := Rising(c.list, func(n int) bool { return 0 <= n && n < 10 }); got != c.want {
-			t.Errorf("Rising of %d: %d, must be %d", c.list, got, c.want)
+		may := func(n int) bool { return 0 <= n && n < 10 }
+		if got := Rising(c.list, may); got != c.rising {
+			t.Errorf("Rising of %d: %d, must be %d", c.list, got, c.rising)
+		}
+		if got := NotDecreasing(c.list, may); got != c.notDecreasing {
+			t.Errorf("NotDecreasing of %d: %d, must be %d", c.list, got, c.notDecreasing)
 		}
 	}
 }

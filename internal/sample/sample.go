@@ -22,9 +22,9 @@ func Bits(text string) api.Bits {
 }
 
 // Same reports whether b is what Bits returns for the text.
-func Same(b api.Bits, text string) bool {
-	return b.Len == len(text) && bytes.Equal(b.Bytes, Bits(text).Bytes)
-}
+func Same(b api.Bits, text string) bool { return sameBits(b, Bits(text)) }
+
+func sameBits(a, b api.Bits) bool { return a.Len == b.Len && bytes.Equal(a.Bytes, b.Bytes) }
 
 // Texts returns all texts of at most longest signs 0 and 1.
 func Texts(longest int) []string {
