@@ -14,7 +14,7 @@ func TestP1WriteAndToldReturnForAllArguments(t *testing.T) {
 	for _, h := range sample.OddHows() {
 		for _, g := range sample.OddGraphs() {
 			p, err := pack.Write(g, h)
-			if bits.Check(p.Bits) != api.OK || err != api.OK && !samePacked(p, api.Packed{}) {
+			if bits.Check(p.Bits) != api.OK || err != api.OK && !sample.SamePacked(p, api.Packed{}) {
 				t.Errorf("Write: %v beside the error %d", p, err)
 			}
 			backs, starts, errTold := pack.Told(g, h)

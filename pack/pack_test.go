@@ -22,14 +22,10 @@ func packed(n int, h api.How, text string) api.Packed {
 	return api.Packed{N: n, How: h, Bits: sample.Bits(text)}
 }
 
-func samePacked(a, b api.Packed) bool {
-	return a.N == b.N && a.How == b.How && a.Bits.Len == b.Bits.Len && slices.Equal(a.Bits.Bytes, b.Bits.Bytes)
-}
-
 // wantWritten fails unless the graph has this text, and for each node these places before it and this position.
 func wantWritten(t *testing.T, g api.Graph, h api.How, text string, backs, starts []int) {
 	t.Helper()
-	if got, err := pack.Write(g, h); !samePacked(got, packed(len(g.Next), h, text)) || err != api.OK {
+	if got, err := pack.Write(g, h); !sample.SamePacked(got, packed(len(g.Next), h, text)) || err != api.OK {
 		t.Errorf("Write of %v, %v: %v %d, must be %s", g, h, got, err, text)
 	}
 	if gotBacks, gotStarts, err := pack.Told(g, h); !slices.Equal(gotBacks, backs) || !slices.Equal(gotStarts, starts) || err != api.OK {
@@ -40,7 +36,7 @@ func wantWritten(t *testing.T, g api.Graph, h api.How, text string, backs, start
 // wantNotWritten fails unless this is the error for the graph.
 func wantNotWritten(t *testing.T, g api.Graph, h api.How, err api.Errno) {
 	t.Helper()
-	if got, gotErr := pack.Write(g, h); !samePacked(got, api.Packed{}) || gotErr != err {
+	if got, gotErr := pack.Write(g, h); !sample.SamePacked(got, api.Packed{}) || gotErr != err {
 		t.Errorf("Write of %d nodes, %v: %v %d, must be %d", len(g.Next), h, got, gotErr, err)
 	}
 	if backs, starts, gotErr := pack.Told(g, h); len(backs)+len(starts) != 0 || gotErr != err {
@@ -146,28 +142,10 @@ func TestN1N2N3OfEdgeGraphs(t *testing.T) {
 	}
 }
 
-// long returns a graph with 453 arcs. With K 16, each gap needs 17 bits, except that as many as zeros says are 0 and need 16, so that the lists need 8201 bits, less zeros, if they have no reference.
-func long(zeros int) api.Graph {
-	g := sample.Full(nodes, 0)
-	for node := range nodes {
-		// The first gap is not 0, since no node is in its own list.
-		first := (node + 1) % 2
-		many := 4
-		if node < 53 {
-			many = 5
-		}
-		g.Next[node] = sample.Steps(first, 2, many)
-		if node < zeros {
-			g.Next[node][many-1]--
-		}
-	}
-	return g
-}
-
 func TestN1N2ErrFullAtTheEdge(t *testing.T) {
 	h := api.How{K: 16}
 	for zeros := range 20 {
-		g := long(zeros)
+		g := sample.Long(zeros)
 		text, _, _ := sample.Pack(g, h)
 		if len(text) != api.MaxLen+9-zeros {
 			t.Fatalf("the text has %d signs", len(text))
@@ -193,7 +171,7 @@ func TestN1N2Errors(t *testing.T) {
 			wantNotWritten(t, w.Graph, h, w.Err)
 		}
 	}
-	for _, g := range append(sample.MixedGraphs(), api.Graph{}, sample.Full(nodes, 6), long(0)) {
+	for _, g := range append(sample.MixedGraphs(), api.Graph{}, sample.Full(nodes, 6), sample.Long(0)) {
 		for _, h := range sample.WrongHows() {
 			wantNotWritten(t, g, h, api.ErrRange)
 		}

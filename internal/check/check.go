@@ -2,6 +2,7 @@
 package check
 
 import (
+	"bytes"
 	"slices"
 
 	"lampwright/api"
@@ -29,6 +30,9 @@ func K(k int) bool { return 1 <= k && k <= maxK }
 
 // Least reports whether runs can be asked to have at least n numbers.
 func Least(n int) bool { return minLeast <= n && n <= api.MaxList }
+
+// SameBits reports whether two sequences have the same number of bits and the same bytes.
+func SameBits(a, b api.Bits) bool { return a.Len == b.Len && bytes.Equal(a.Bytes, b.Bytes) }
 
 // Rising returns the error of the first element of a list that has one: it may not stand there, as no number less than 0 may, or it is not greater than the one before.
 func Rising(l []int, may func(int) bool) api.Errno { return inSteps(l, 1, may) }

@@ -58,6 +58,18 @@ func TestLeast(t *testing.T) {
 	}
 }
 
+func TestSameBits(t *testing.T) {
+	b := api.Bits{Len: 9, Bytes: []byte{5, 128}}
+	if !SameBits(b, api.Bits{Len: 9, Bytes: []byte{5, 128}}) || !SameBits(api.Bits{}, api.Bits{Bytes: []byte{}}) {
+		t.Error("SameBits tells bits from themselves")
+	}
+	for _, other := range []api.Bits{{}, {Len: 9}, {Len: 10, Bytes: b.Bytes}, {Len: 8, Bytes: b.Bytes[:1]}, {Len: 9, Bytes: []byte{5, 0}}, {Len: 9, Bytes: []byte{4, 128}}, {Len: 9, Bytes: []byte{5, 128, 0}}} {
+		if SameBits(b, other) || SameBits(other, b) {
+			t.Errorf("SameBits does not tell %v from %v", other, b)
+		}
+	}
+}
+
 func TestRisingAndNotDecreasing(t *testing.T) {
 	for _, c := range []struct {
 		list                  []int

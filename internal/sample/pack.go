@@ -32,3 +32,26 @@ func PackNode(g api.Graph, node, back int, h api.How) string {
 	}
 	return code + Succ(node, g.Next[node], g.Next[node-back], api.How{Back: back, Least: h.Least, K: h.K})
 }
+
+// SamePacked reports whether two packed graphs have the same numbers and bits.
+func SamePacked(a, b api.Packed) bool {
+	return a.N == b.N && a.How == b.How && sameBits(a.Bits, b.Bits)
+}
+
+// Long returns a graph with 453 arcs. With K 16, each gap needs 17 bits, except that as many as zeros says are 0 and need 16, so that the lists need 8201 bits, less zeros, if they have no reference.
+func Long(zeros int) api.Graph {
+	g := Full(api.MaxNodes, 0)
+	for node := range g.Next {
+		// The first gap is not 0, since no node is in its own list.
+		first := (node + 1) % 2
+		many := 4
+		if node < 53 {
+			many = 5
+		}
+		g.Next[node] = Steps(first, 2, many)
+		if node < zeros {
+			g.Next[node][many-1]--
+		}
+	}
+	return g
+}
