@@ -71,7 +71,7 @@ func TestP2EmptyListsCanBeNilOrNot(t *testing.T) {
 func TestP3EachCallIsByItself(t *testing.T) {
 	numbers := []uint64{0, 300, 127, math.MaxUint64, 1 << 14}
 	for range 3 {
-		wantWrite(t, numbers, spellAll(numbers), api.OK)
+		wantWrite(t, numbers, sample.Varints(numbers...), api.OK)
 		b, _ := varint.Write(numbers)
 		wantRead(t, b, 1, 300, 3, api.OK)
 		wantRead(t, b, 0, 0, 1, api.OK)

@@ -7,6 +7,7 @@ import (
 	"testing"
 
 	"lampwright/api"
+	"lampwright/internal/sample"
 	"lampwright/varint"
 )
 
@@ -43,17 +44,17 @@ func TestF3ReadsWhatIsWritten(t *testing.T) {
 	for _, n := range numbers() {
 		for _, start := range [][]byte{nil, {0}, {255}, {128, 200, 255}, bytes.Repeat([]byte{129}, 30)} {
 			for _, end := range [][]byte{nil, {0}, {1}, {128}, bytes.Repeat([]byte{255}, 20)} {
-				b := slices.Concat(start, spell(n), end)
+				b := slices.Concat(start, sample.Varint(n), end)
 				wantRead(t, b, len(start), n, len(b)-len(end), api.OK)
 			}
 		}
-		wantAll(t, spell(n), []uint64{n}, api.OK)
+		wantAll(t, sample.Varint(n), []uint64{n}, api.OK)
 	}
 }
 
 func TestF3PartsOfNumbersAreTooShort(t *testing.T) {
 	for _, n := range numbers() {
-		b := spell(n)
+		b := sample.Varint(n)
 		for end := range b {
 			wantRead(t, b[:end], 0, 0, 0, api.ErrShort)
 			wantRead(t, append([]byte{5}, b[:end]...), 1, 0, 0, api.ErrShort)
@@ -205,6 +206,6 @@ func TestF3AllReadsSeveralNumbers(t *testing.T) {
 	all := numbers()
 	for from := 0; from < len(all); from += 50 {
 		l := all[from:min(from+300, len(all))]
-		wantAll(t, spellAll(l), l, api.OK)
+		wantAll(t, sample.Varints(l...), l, api.OK)
 	}
 }

@@ -4,36 +4,12 @@ import (
 	"bytes"
 	"math"
 	"slices"
-	"strconv"
-	"strings"
 	"testing"
 
 	"lampwright/api"
 	"lampwright/internal/sample"
 	"lampwright/varint"
 )
-
-// spell cuts the binary digits of n into sevens, from the end on.
-func spell(n uint64) []byte {
-	text := strconv.FormatUint(n, 2)
-	text = strings.Repeat("0", (7-len(text)%7)%7) + text
-	var b []byte
-	for end := len(text); end > 0; end -= 7 {
-		seven, _ := strconv.ParseUint(text[end-7:end], 2, 8)
-		b = append(b, byte(seven)+128)
-	}
-	b[len(b)-1] -= 128
-	return b
-}
-
-// spellAll writes several numbers, one after the other.
-func spellAll(l []uint64) []byte {
-	var b []byte
-	for _, n := range l {
-		b = append(b, spell(n)...)
-	}
-	return b
-}
 
 // numbers returns small numbers, and those around each power of 2, up to the greatest one.
 func numbers() []uint64 {
@@ -121,7 +97,7 @@ func TestF2ByHand(t *testing.T) {
 
 func TestF2NumbersOfEachSize(t *testing.T) {
 	for _, n := range numbers() {
-		wantWrite(t, []uint64{n}, spell(n), api.OK)
+		wantWrite(t, []uint64{n}, sample.Varint(n), api.OK)
 	}
 }
 
@@ -140,7 +116,7 @@ func TestF2SeveralNumbers(t *testing.T) {
 	all := numbers()
 	for from := 0; from < len(all); from += 50 {
 		l := all[from:min(from+300, len(all))]
-		wantWrite(t, l, spellAll(l), api.OK)
+		wantWrite(t, l, sample.Varints(l...), api.OK)
 	}
 }
 
@@ -150,12 +126,12 @@ func TestF2TooManyBytes(t *testing.T) {
 		for rest := range 3 {
 			// As many numbers as there is room for, behind some of one byte.
 			fit := slices.Concat(make([]uint64, rest), slices.Repeat([]uint64{n}, (api.MaxBytes-rest)/long))
-			wantWrite(t, fit, spellAll(fit), api.OK)
+			wantWrite(t, fit, sample.Varints(fit...), api.OK)
 			wantWrite(t, append(fit, n), nil, api.ErrMany)
 			// The rest of the room is for numbers of one byte.
-			room := api.MaxBytes - len(spellAll(fit))
+			room := api.MaxBytes - len(sample.Varints(fit...))
 			full := slices.Concat(fit, make([]uint64, room))
-			wantWrite(t, full, spellAll(full), api.OK)
+			wantWrite(t, full, sample.Varints(full...), api.OK)
 			wantWrite(t, append(full, 0), nil, api.ErrMany)
 		}
 	}
