@@ -62,7 +62,7 @@ func TestP2ArgumentsStayAsTheyAre(t *testing.T) {
 }
 
 func TestP2ResultsShareNoMemory(t *testing.T) {
-	for _, g := range greatGraphs() {
+	for _, g := range sample.GreatGraphs() {
 		first, again := results(g, 0, 1), results(g, 0, 1)
 		if sample.ShareMemory(slices.Concat(first, again, g.Next)...) {
 			t.Errorf("the results for %v share memory", g)

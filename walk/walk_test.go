@@ -12,90 +12,6 @@ import (
 
 const nodes = api.MaxNodes
 
-// smallGraphs are all graphs with at most 3 nodes, and some with 4.
-func smallGraphs() []api.Graph {
-	var all []api.Graph
-	for n := range 4 {
-		all = append(all, sample.Graphs(n)...)
-	}
-	for i, g := range sample.Graphs(4) {
-		if i%17 == 0 {
-			all = append(all, g)
-		}
-	}
-	return all
-}
-
-// greatGraphs have more nodes, up to as many as there may be.
-func greatGraphs() []api.Graph {
-	return append(slices.Concat(sample.MixedGraphs(), sample.EdgeGraphs()), sample.Circle(nodes, 1), sample.Circle(nodes, 7, 30), sample.Circle(60, 1, 2, 30), line(nodes), fan(nodes), grid(8), pairs(50))
-}
-
-// line has an arc from each node to the next one.
-func line(n int) api.Graph {
-	g := sample.Circle(n, 1)
-	g.Next[n-1] = nil
-	return g
-}
-
-// fan has arcs from the last node to all nodes.
-func fan(n int) api.Graph {
-	g := sample.Full(n, 0)
-	g.Next[n-1] = sample.Steps(0, 1, n)
-	return g
-}
-
-// grid has n rows of n nodes, with an arc from each to the next one in its row and in its column, so that many paths are shortest.
-func grid(n int) api.Graph {
-	g := sample.Full(n*n, 0)
-	for node := range g.Next {
-		if node%n < n-1 {
-			g.Next[node] = append(g.Next[node], node+1)
-		}
-		if node/n < n-1 {
-			g.Next[node] = append(g.Next[node], node+n)
-		}
-	}
-	return g
-}
-
-// pairs has an arc from each of the last n nodes to one of the first n, and no others.
-func pairs(n int) api.Graph {
-	g := sample.Full(2*n, 0)
-	for node := range n {
-		g.Next[2*n-1-node] = []int{node}
-	}
-	return g
-}
-
-// allDistances returns the distances between all nodes: those over the first nodes alone, and then over one more, and so on.
-func allDistances(g api.Graph) [][]int {
-	const far = 1 << 20
-	d := make([][]int, len(g.Next))
-	for node, l := range g.Next {
-		d[node] = slices.Repeat([]int{far}, len(d))
-		for _, to := range l {
-			d[node][to] = 1
-		}
-		d[node][node] = 0
-	}
-	for over := range d {
-		for from := range d {
-			for to := range d {
-				d[from][to] = min(d[from][to], d[from][over]+d[over][to])
-			}
-		}
-	}
-	for _, row := range d {
-		for to := range row {
-			if row[to] >= far {
-				row[to] = -1
-			}
-		}
-	}
-	return d
-}
-
 // allWays returns the least shortest path from s to each node to which there is one: of all that are least to the nodes before, with one more node, the least one.
 func allWays(g api.Graph, s int) map[int][]int {
 	ways := map[int][]int{s: {s}}
@@ -199,17 +115,17 @@ func TestT2ByHand(t *testing.T) {
 	wantMost(t, sample.Graph([]int{0}), 0, api.OK)
 	wantParts(t, sample.Graph(nil, nil, []int{2}), []int{0, 1, 2}, api.OK)
 	wantMost(t, sample.Graph(nil, nil, []int{2}), 0, api.OK)
-	wantParts(t, line(nodes), make([]int, nodes), api.OK)
-	wantMost(t, line(nodes), nodes-1, api.OK)
-	wantParts(t, fan(nodes), make([]int, nodes), api.OK)
-	wantMost(t, fan(nodes), 1, api.OK)
+	wantParts(t, sample.Line(nodes), make([]int, nodes), api.OK)
+	wantMost(t, sample.Line(nodes), nodes-1, api.OK)
+	wantParts(t, sample.Fan(nodes), make([]int, nodes), api.OK)
+	wantMost(t, sample.Fan(nodes), 1, api.OK)
 	wantMost(t, sample.Circle(nodes, 1), nodes-1, api.OK)
 	wantMost(t, sample.Full(24, 24), 1, api.OK)
 }
 
 func TestT1Far(t *testing.T) {
-	for _, g := range append(smallGraphs(), greatGraphs()...) {
-		for s, far := range allDistances(g) {
+	for _, g := range append(sample.SmallGraphs(), sample.GreatGraphs()...) {
+		for s, far := range sample.AllFar(g) {
 			wantFar(t, g, s, far, api.OK)
 		}
 	}
@@ -228,8 +144,8 @@ func wantWays(t *testing.T, g api.Graph, s int, wayTo func(to int) []int) {
 }
 
 func TestT1WayOfSmallGraphs(t *testing.T) {
-	for _, g := range append(smallGraphs(), sample.MixedGraphs()[:4]...) {
-		for s, far := range allDistances(g) {
+	for _, g := range append(sample.SmallGraphs(), sample.MixedGraphs()[:4]...) {
+		for s, far := range sample.AllFar(g) {
 			wantWays(t, g, s, func(to int) []int {
 				if far[to] < 0 {
 					return nil
@@ -241,7 +157,7 @@ func TestT1WayOfSmallGraphs(t *testing.T) {
 }
 
 func TestT1WayOfGreatGraphs(t *testing.T) {
-	for _, g := range greatGraphs() {
+	for _, g := range sample.GreatGraphs() {
 		for s := range g.Next {
 			ways := allWays(g, s)
 			wantWays(t, g, s, func(to int) []int { return ways[to] })
@@ -251,8 +167,8 @@ func TestT1WayOfGreatGraphs(t *testing.T) {
 
 // The oracles agree with each other.
 func TestT1WaysAreShortest(t *testing.T) {
-	for _, g := range append(smallGraphs(), greatGraphs()...) {
-		for s, far := range allDistances(g) {
+	for _, g := range append(sample.SmallGraphs(), sample.GreatGraphs()...) {
+		for s, far := range sample.AllFar(g) {
 			ways := allWays(g, s)
 			for to := range g.Next {
 				if len(ways[to]) != far[to]+1 {
@@ -278,9 +194,9 @@ func partsOf(g api.Graph) []int {
 }
 
 func TestT2PartsAndMost(t *testing.T) {
-	for _, g := range append(smallGraphs(), greatGraphs()...) {
+	for _, g := range append(sample.SmallGraphs(), sample.GreatGraphs()...) {
 		wantParts(t, g, partsOf(g), api.OK)
-		wantMost(t, g, slices.Max(append(slices.Concat(allDistances(g)...), 0)), api.OK)
+		wantMost(t, g, slices.Max(append(slices.Concat(sample.AllFar(g)...), 0)), api.OK)
 	}
 }
 
@@ -300,7 +216,7 @@ func outside(n int) []int {
 }
 
 func TestT1Errors(t *testing.T) {
-	for _, g := range append(greatGraphs(), smallGraphs()[:19]...) {
+	for _, g := range append(sample.GreatGraphs(), sample.SmallGraphs()[:19]...) {
 		n := len(g.Next)
 		for _, bad := range outside(n) {
 			wantFar(t, g, bad, nil, api.ErrRange)
