@@ -6,11 +6,10 @@ import (
 	"strings"
 
 	"lampwright/api"
+	"lampwright/internal/spell"
 )
 
 const (
-	// blank stands between the words of a line. No other white space does.
-	blank = " "
 	// end is that of a line.
 	end    = "\n"
 	digits = "0123456789"
@@ -19,13 +18,7 @@ const (
 )
 
 // lineOf returns the line that has these numbers as its words.
-func lineOf(numbers ...int) string {
-	var words []string
-	for _, n := range numbers {
-		words = append(words, strconv.Itoa(n))
-	}
-	return strings.Join(words, blank) + end
-}
+func lineOf(numbers ...int) string { return spell.Numbers(numbers...) + end }
 
 // linesOf returns the lines of a text without their ends, if neither its bytes nor its lines are too many.
 func linesOf(s string) ([]string, api.Errno) {
@@ -44,7 +37,7 @@ func linesOf(s string) ([]string, api.Errno) {
 }
 
 func wordsOf(line string) []string {
-	words := strings.Split(line, blank)
+	words := strings.Split(line, spell.Blank)
 	return slices.DeleteFunc(words, func(word string) bool { return word == "" })
 }
 

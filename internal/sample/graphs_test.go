@@ -117,12 +117,35 @@ func TestGraphMemory(t *testing.T) {
 	}
 }
 
+func TestGraphsMemory(t *testing.T) {
+	graphs := []api.Graph{Graph([]int{0, 1}, nil), {}, Graph([]int{0})}
+	for i, change := range []func(l []api.Graph){
+		func(l []api.Graph) { l[0].Next[0][1]++ },
+		func(l []api.Graph) { _ = append(l[1].Next, nil) },
+		func(l []api.Graph) { l[1] = api.Graph{} },
+		func(l []api.Graph) { l[0] = Graph([]int{0, 1}, nil) },
+		func(l []api.Graph) { l[0].Next = l[0].Next[:1] },
+		func(l []api.Graph) { l[0], l[2] = l[2], l[0] },
+		func(l []api.Graph) { _ = append(l, api.Graph{}) },
+		func(l []api.Graph) { FlipGraph(l[:4][3]) },
+	} {
+		m := AroundGraphs(graphs, 5)
+		if m.Changed() || !slices.EqualFunc(m.Graphs, graphs, SameGraph) {
+			t.Fatalf("AroundGraphs: %v", m.Graphs)
+		}
+		change(m.Graphs)
+		if !m.Changed() {
+			t.Errorf("change %d is not noticed", i)
+		}
+	}
+}
+
 func TestShareMemory(t *testing.T) {
 	whole := []int{1, 2, 3, 4}
 	if !ShareMemory(nil, whole[:2:2], whole[1:]) || !ShareMemory(whole[:1], whole[3:]) || !ShareMemory(whole, whole) {
 		t.Error("lists that share memory are not noticed")
 	}
-	if ShareMemory() || ShareMemory(whole) || ShareMemory(whole[:2:2], whole[2:], nil, []int{}) {
+	if ShareMemory[int]() || ShareMemory(whole) || ShareMemory(whole[:2:2], whole[2:], nil, []int{}) {
 		t.Error("lists that do not share memory are said to do so")
 	}
 	if !slices.Equal(whole, []int{1, 2, 3, 4}) {
